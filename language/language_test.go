@@ -32,7 +32,7 @@ var mayCall = [][2]string{
 	{"rt", ""},
 	{"lex", ""},
 	{"parse", "lex"},
-	{"tree", ""},
+	{"tree", "lex"}, // chapter 13 says so, beyond the map
 	{"items", "tree"},
 	{"types", ""},
 	{"check", "tree items types"},
