@@ -146,6 +146,85 @@ func TestFindFirst(t *testing.T) {
 	if _, _, ok := Variant(empty, "x"); ok {
 		t.Error("a variant without ::")
 	}
+	if e, v, ok := Variant(it, "E::C"); e != 2 || v != 1 || !ok { // the first enum E has no C
+		t.Error(e, v, ok)
+	}
+}
+
+// 14.3: items may be any, so names with : in them too: a name fits wherever its :: may stand.
+func TestVariantOfAnyNames(t *testing.T) {
+	enum := func(name string, variants ...string) api.Enum {
+		e := api.Enum{Name: name}
+		for _, v := range variants {
+			e.Variants = append(e.Variants, api.Field{Name: v})
+		}
+		return e
+	}
+	for _, x := range []struct {
+		enums []api.Enum
+		name  string
+		want  [2]int
+		there bool
+	}{
+		{[]api.Enum{enum("A::B", "C")}, "A::B::C", [2]int{0, 0}, true},
+		{[]api.Enum{enum("A", "C", "B::C")}, "A::B::C", [2]int{0, 1}, true},
+		{[]api.Enum{enum("A:", "B", "C")}, "A:::C", [2]int{0, 1}, true},
+		{[]api.Enum{enum("A", "B", ":C")}, "A:::C", [2]int{0, 1}, true},
+		{[]api.Enum{enum("A", "B", "C"), enum("A::B", "A", "C"), enum("A", "B::C")}, "A::B::C", [2]int{1, 1}, true},
+		{[]api.Enum{enum("", "A"), enum("A", "B::C"), enum("A::B", "A", "C")}, "A::B::C", [2]int{1, 0}, true},
+		{[]api.Enum{enum("", "", "::"), enum("::", "")}, "::::", [2]int{0, 1}, true},
+		{[]api.Enum{enum("", "x"), enum("::", "")}, "::::", [2]int{1, 0}, true},
+		{[]api.Enum{enum("::", "::")}, "::::::", [2]int{0, 0}, true},
+		{[]api.Enum{enum("", "")}, "::", [2]int{0, 0}, true},
+		{[]api.Enum{enum("A::B", "C"), enum("A", "B::"), enum("A:", ":B"), enum("A::")}, "A::B", [2]int{}, false},
+		{[]api.Enum{enum("A::B", "C", "A::B::C"), enum("", "B::C", "::A::B::C")}, "A::B::D", [2]int{}, false},
+		{[]api.Enum{enum("A::B", "C"), enum("", "C")}, "A:B::C", [2]int{}, false},
+		{[]api.Enum{enum("", ""), enum(":", ":")}, ":", [2]int{}, false},
+	} {
+		if e, v, ok := Variant(api.Items{Enums: x.enums}, x.name); [2]int{e, v} != x.want || ok != x.there {
+			t.Error(x.enums, x.name, e, v, ok)
+		}
+	}
+}
+
+// 14.3: Variant of names of few letters is the first pair of an enum and its variant that the name is made of.
+func TestVariantIsThatOfTheFirstPair(t *testing.T) {
+	r := rand.New(rand.NewSource(24))
+	text := func(letters string, most int) string {
+		b := make([]byte, r.Intn(most+1))
+		for k := range b {
+			b[k] = letters[r.Intn(len(letters))]
+		}
+		return string(b)
+	}
+	there := 0
+	for range 20000 {
+		var it api.Items
+		for range r.Intn(5) {
+			e := api.Enum{Name: text("a:::", 3)}
+			for range r.Intn(5) {
+				e.Variants = append(e.Variants, api.Field{Name: text("a:::", 3)})
+			}
+			it.Enums = append(it.Enums, e)
+		}
+		name, want, fits := text("a:::", 7), [2]int{}, false
+		for k, e := range slices.Backward(it.Enums) {
+			for v, f := range slices.Backward(e.Variants) {
+				if e.Name+"::"+f.Name == name {
+					want, fits = [2]int{k, v}, true
+				}
+			}
+		}
+		if e, v, ok := Variant(it, name); [2]int{e, v} != want || ok != fits {
+			t.Fatal(it.Enums, name, e, v, ok)
+		}
+		if fits {
+			there++
+		}
+	}
+	if there < 500 {
+		t.Error("too few names fit", there)
+	}
 }
 
 // 14.4: items that differ in one field alone; nil and empty lists.
