@@ -34,7 +34,7 @@ var mayCall = [][2]string{
 	{"parse", "lex"},
 	{"tree", "lex"}, // chapter 13 says so, beyond the map
 	{"items", "tree"},
-	{"types", ""},
+	{"types", "tree items"}, // chapter 15 says so, beyond the map
 	{"check", "tree items types"},
 	{"cover", "tree types check"},
 	{"eval", "types check"},
