@@ -124,7 +124,7 @@ func TestMadeConstants(t *testing.T) {
 	some := 0
 	for range 40 {
 		m := &maker{r: r}
-		u := typedOf(t, m.source(1 + r.Intn(2)))
+		u := typedOf(t, m.source(1+r.Intn(2)))
 		for range 40 {
 			n := r.Intn(len(u.Tree.Nodes))
 			want, ok := modelConstant(u, n)

@@ -102,3 +102,19 @@ func TestValues(t *testing.T) {
 		{"let a = 5; let r = &a; print(*r);", "5", done, 1 + 2 + 3 + 4}, {"let mut a = 5; let r = &mut a; *r = 6; print(a);", "6", done, 1 + 2 + 3 + 4 + 3}, {"let b = Box::new(7); print(*b);", "7", done, 1 + 3 + 4 + 1}, {"let b = Box::new(Box::new(8)); print(**b);", "8", done, 1 + 4 + 5 + 2}, {"let b = Box::new(1); print(**lend(&b));", "1", done, 0}, {"let u = Box::new(()); *u; let r = &*u; *r", "", done, 0},
 	})
 }
+
+// 18.1: places, from variables and from values, through references and Boxes.
+func TestPlaces(t *testing.T) {
+	p := "let mut p = P { d: D { x: 1, y: true }, s: S { a: 2, b: Box::new(3) }, l: Box::new(L::End) }; "
+	wantRows(t, []row{
+		{"let s = S { a: 1, b: Box::new(2) }; print((&s).a);", "1", done, 1 + 5 + 5 + 1}, {"let s = S { a: 1, b: Box::new(2) }; print(*(&s).b); print(*&s.a);", "2 1", done, 1 + 5 + 6 + 6 + 1}, {"let b = Box::new(1); print(*{ print(2); &*b });", "2 1", done, 0}, {"let b = Box::new(1); let r = &b; print(**r); print(**&b); print(**lend(r));", "1 1 1", done, 0},
+		{"let b = Box::new(S { a: 1, b: Box::new(2) }); let r = &b; print(b.a); print(r.a); print(*b.b); print(*r.b); print((*r).a); print((**r).a); print((&b).a); print((&*b).a);", "1 1 2 2 1 1 1 1", done, 0}, {"let b = Box::new(Box::new(D { x: 4, y: true })); let r = &b; print(b.x); print(r.x); if r.y { print((&*b).x); }", "4 4 4", done, 0},
+		{"fn whole(p: &P) -> &P { p } fn give(p: &mut P) -> &mut P { p } fn main() { " + p + "print(whole(&p).s.a); print(*whole(&p).s.b); give(&mut p).d.x = 5; *give(&mut p).s.b = 6; let r = &mut give(&mut p).s; r.a = 7; *give(&mut p).l = L::More(Box::new(L::End)); give(&mut p).s.b = Box::new(*p.s.b + 1); print(p.d.x); print(p.s.a); print(*p.s.b); }", "2 3 5 7 7", done, 0},
+		{p + "let r = &mut p; r.d.x = 10; let q = &mut r.s; q.a = 20; *q.b = 30; print(r.d.x + p.s.a + *p.s.b);", "60", done, 0}, {p + "let r = &p.s.a; let q = &p.d; print(*r + q.x);", "3", done, 0}, {p + "let r = &mut *p.s.b; *r = 8; print(*p.s.b);", "8", done, 0},
+		// each pointer on the way is read, and what it points to must live
+		{"let b = Box::new(S { a: 1, b: Box::new(2) }); let r = &b; let c = b; print(3); print(r.a);", "3", undef, 0}, {"let b = Box::new(S { a: 1, b: Box::new(2) }); let r = &b; let c = b; print(3); &r.a;", "3", undef, 0}, {"let b = Box::new(S { a: 1, b: Box::new(2) }); let c = b.b; print(b.a); let r = &b.b; print(4); &**r;", "1 4", undef, 0}, {"let b = Box::new(1); let c = b; let r = &b; print(1); let q = &*b;", "1", undef, 0}, {"let s = S { a: 1, b: Box::new(2) }; let q = s; let r = &s.a; let p = &s; let o = &p.b; print(1); print(*r);", "1", undef, 0},
+		{"fn f(d: D) -> &D { &d } fn main() { print(1); f(D { x: 1, y: true }).x; }", "1", undef, 0}, {"fn f(d: D) -> &D { &d } fn main() { print(1); let r = &f(D { x: 1, y: true }).x; }", "1", undef, 0},
+		// enums without payloads, and fields without words
+		{"enum U { X, Y, Z } struct V { u: U, a: (), n: N, w: U, i: i64 } fn main() { let v = V { i: 1, w: U::Z, n: N { }, u: U::Y, a: () }; match v.u { U::X => print(1), U::Y => print(2), U::Z => print(3) }; match v.w { U::X => print(1), U::Y => print(2), U::Z => print(3) }; v.a; v.n; print(v.i); let u = v.u; match u { U::Y => print(4), _ => print(5) } }", "2 3 1 4", done, 0},
+	})
+}

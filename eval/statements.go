@@ -9,7 +9,7 @@ func (m *machine) statement(n int) {
 	case api.KLet:
 		m.let(n)
 	case api.KDo:
-		m.do(x.Kids[0])
+		m.drop(wholeOf(newObject(m.value(x.Kids[0])), m.ofNodes[x.Kids[0]]))
 	case api.KSet:
 		m.set(x)
 	case api.KWhile:
@@ -31,13 +31,6 @@ func (m *machine) let(n int) {
 	kids := m.node(n).Kids
 	of := kids[len(kids)-1]
 	m.begin(m.vars[n], m.ofNodes[of], m.value(of))
-}
-
-// do drops what an expression tells.
-func (m *machine) do(n int) {
-	if value := m.value(n); len(value) > 0 {
-		m.drop(wholeOf(newObject(value), m.ofNodes[n]))
-	}
 }
 
 func (m *machine) set(x *api.Node) {
