@@ -3,13 +3,13 @@ package eval
 import "patina/api"
 
 func (m *machine) statement(n int) {
-	m.step()
+	m.Step()
 	x := m.node(n)
 	switch x.Kind {
 	case api.KLet:
 		m.let(n)
 	case api.KDo:
-		m.drop(wholeOf(newObject(m.value(x.Kids[0])), m.ofNodes[x.Kids[0]]))
+		m.Drop(m.value(x.Kids[0]), m.ofNodes[x.Kids[0]])
 	case api.KSet:
 		m.set(x)
 	case api.KWhile:
@@ -36,8 +36,8 @@ func (m *machine) let(n int) {
 func (m *machine) set(x *api.Node) {
 	value := m.value(x.Kids[1])
 	p := m.place(x.Kids[0])
-	m.dropAt(p)
-	m.write(p, value)
+	m.DropAt(p)
+	m.Write(p, value)
 }
 
 func (m *machine) while(x *api.Node) {
