@@ -77,3 +77,21 @@ func TestOtherTypes(t *testing.T) {
 		{"_4 = call whole; _10 = box move _4; _17 = pick X 3 move _10; _10 = move _17.@3; print copy _10.*.1.*", done(0, "9\n", 9)},
 	})
 }
+
+// 21.1: a block that is followed as one of a wider type has no words behind its own, and a number that is no variant's is no tag.
+func TestShortBlocks(t *testing.T) {
+	// _33 points to a Box<S>, whose block has but one word; _34 to a Box<E>, likewise.
+	asS := "_4 = call whole; _10 = box move _4; _17 = pick X 3 move _10; _33 = mut _17.@3; _3 = box 8; _17 = pick X 1 move _3; "
+	asE := func(tag string) string {
+		return "_7 = pick E 0; _35 = box move _7; _17 = pick X 4 move _35; _34 = mut _17.@4; _3 = box " + tag + "; _17 = pick X 1 move _3; "
+	}
+	wantRows(t, []row{
+		{asS + "print copy _33.*.*.0; _33.*.*.0 = 7; print copy _17.@1.*", done(0, "8\n7\n", 13)},
+		{asS + "print copy _33.*.*.1.*", undefined("", 10)}, {asS + "_3 = move _33.*.*.1", undefined("", 10)}, {asS + "_4 = move _33.*.*", undefined("", 10)}, {asS + "_6 = mut _33.*.*; print copy _6.*.0; print copy _6.*.1.*", undefined("8\n", 12)},
+		{asS + "_33.*.*.1 = box 2", undefined("", 10)}, {asS + "_4 = call whole; _33.*.* = move _4", undefined("", 14)},
+		{asS + "_29 = ref _33.*.*.1; print 1; print copy _29.*.*", undefined("1\n", 12)}, {asS + "drop _33.*", undefined("", 11)}, {asS + "drop _33.*.*", undefined("", 10)}, {asS + "drop _33.*.*.1", undefined("", 10)}, {asS + "free _33.*.*.1", undefined("", 10)}, {asS + "free _33.*; print 1; _1 = copy _17.@1.*", undefined("1\n", 12)},
+		{asE("0") + "_7 = move _34.*.*; _1 = tag _7; print copy _1; _1 = tag _34.*.*", undefined("0\n", 10)}, {asE("0") + "drop _34.*.*; print 1; _1 = tag _34.*.*", undefined("1\n", 9)}, {asE("0") + "drop _34.*", done(0, "", 9)},
+		{asE("1") + "_7 = move _34.*.*", undefined("", 7)}, {asE("1") + "_1 = copy _34.*.*.@1", undefined("", 7)}, {asE("1") + "_34.*.*.@1 = 2", undefined("", 7)}, {asE("1") + "drop _34.*.*", done(0, "", 8)}, {asE("2") + "drop _34.*.*", undefined("", 7)}, {asE("2") + "drop _34.*", undefined("", 8)},
+		{asE("3") + "_1 = tag _34.*.*; print copy _1; _7 = move _34.*.*", undefined("3\n", 9)}, {asE("-1") + "_1 = tag _34.*.*; print copy _1; _7 = move _34.*.*", undefined("-1\n", 9)}, {asE("3") + "drop _34.*.*", undefined("", 7)}, {asE("-1") + "drop _34.*", undefined("", 8)}, {asE("4611686018427387904") + "drop _34.*", undefined("", 8)},
+	})
+}

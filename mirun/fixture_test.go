@@ -16,7 +16,7 @@ import (
 )
 
 const ofTypes = "struct S { a: i64, b: Box<i64> } struct N { } struct D { x: Box<i64>, y: Box<i64> } struct P { s: S, e: E, u: (), l: Box<L> } " +
-	"enum E { A, B(i64), C(S) } enum L { End, More(Box<L>) } enum X { I(i64), K(Box<i64>), Q(bool), M(Box<S>) } "
+	"enum E { A, B(i64), C(S) } enum L { End, More(Box<L>) } enum X { I(i64), K(Box<i64>), Q(bool), M(Box<S>), F(Box<E>) } "
 
 // helpers are the functions that main calls in tests: their heads, and their MIR behind their results and parameters.
 func helpers() [][2]string {
@@ -51,7 +51,7 @@ func helpers() [][2]string {
 
 // locals are those of main, behind its result.
 func locals() []string {
-	return []string{"()", "i64", "bool", "Box<i64>", "S", "&S", "&mut S", "E", "&E", "P", "Box<S>", "N", "L", "&i64", "&mut i64", "Box<Box<i64>>", "D", "X", "X", "&mut Box<i64>", "i64", "Box<L>", "&mut L", "Box<()>", "Box<N>", "&()", "Box<i64>", "&mut X", "Box<D>", "&Box<i64>", "()", "bool", "Box<P>"}
+	return []string{"()", "i64", "bool", "Box<i64>", "S", "&S", "&mut S", "E", "&E", "P", "Box<S>", "N", "L", "&i64", "&mut i64", "Box<Box<i64>>", "D", "X", "X", "&mut Box<i64>", "i64", "Box<L>", "&mut L", "Box<()>", "Box<N>", "&()", "Box<i64>", "&mut X", "Box<D>", "&Box<i64>", "()", "bool", "Box<P>", "&mut Box<S>", "&mut Box<E>", "Box<E>"}
 }
 
 // head is a function's text up to its parameters.
