@@ -10,6 +10,7 @@ import (
 	"patina/api"
 	"patina/check"
 	"patina/mir"
+	"patina/sourcetest"
 	"patina/types"
 )
 
@@ -116,8 +117,8 @@ func TestMadePlaces(t *testing.T) {
 	r := rand.New(rand.NewSource(202))
 	places, none := 0, 0
 	for range 12 {
-		m := &maker{r: r}
-		u := typedOf(t, m.source(2))
+		m := &sourcetest.Maker{Choose: r.Intn}
+		u := typedOf(t, m.Source(2))
 		x, d := Of(u)
 		for range 60 {
 			n := r.Intn(len(u.Tree.Nodes))
@@ -147,8 +148,8 @@ func TestArbitrary(t *testing.T) {
 	r := rand.New(rand.NewSource(201))
 	texts := []string{"", "!", "&", "bool", "i64", "E", "&&E", "E::B", "x"}
 	for range 200 {
-		m := &maker{r: r}
-		u := typedOf(t, m.source(1))
+		m := &sourcetest.Maker{Choose: r.Intn}
+		u := typedOf(t, m.Source(1))
 		n := r.Intn(len(u.Tree.Nodes))
 		x := &u.Tree.Nodes[n]
 		switch r.Intn(9) {

@@ -4,8 +4,6 @@ import (
 	"maps"
 	"math/rand"
 	"reflect"
-	"runtime"
-	"slices"
 	"strconv"
 	"strings"
 	"testing"
@@ -13,6 +11,7 @@ import (
 	"patina/api"
 	"patina/check"
 	"patina/mir"
+	"patina/sourcetest"
 )
 
 // wantOrdered holds a function to 20.3's first sentences, and to the order of its numbers: each block is come to, each temporary is named, blocks and temporaries in the order of their numbers.
@@ -106,8 +105,8 @@ func wantBalanced(t *testing.T, f api.MFn, source string) {
 func TestFollows(t *testing.T) {
 	r := rand.New(rand.NewSource(203))
 	for range 300 {
-		m := &maker{r: r}
-		source := m.source(r.Intn(4))
+		m := &sourcetest.Maker{Choose: r.Intn}
+		source := m.Source(r.Intn(4))
 		u := typedOf(t, source)
 		x, d := Of(u)
 		if d.Code != api.OK {
@@ -128,14 +127,13 @@ func TestFollows(t *testing.T) {
 
 // bodiesApart are made sources that differ in all bodies but that of the function at a place.
 func bodiesApart(r *rand.Rand, k int) (string, string) {
-	a, b := &maker{r: r}, &maker{r: r}
-	first, second := madeTypes, madeTypes
-	for i, f := range madeFns() {
-		a.fns, b.fns = []string{"f", "g", "h", "k", "l", "u", "two"}, []string{"f", "u"}
-		body := a.function(f, 2)
+	a, b := &sourcetest.Maker{Choose: r.Intn}, &sourcetest.Maker{Choose: r.Intn}
+	first, second := sourcetest.Types, sourcetest.Types
+	for i, f := range sourcetest.Functions() {
+		body := a.Function(f, 2, "f", "g", "h", "k", "l", "u", "two")
 		first += body
 		if i != k {
-			body = b.function(f, 1)
+			body = b.Function(f, 1, "f", "u")
 		}
 		second += body
 	}
@@ -161,7 +159,7 @@ func withoutPlaces(f api.MFn) api.MFn {
 func TestOtherBodies(t *testing.T) {
 	r := rand.New(rand.NewSource(204))
 	for range 60 {
-		for k := range madeFns() {
+		for k := range sourcetest.Functions() {
 			first, second := bodiesApart(r, k)
 			a, d := Of(typedOf(t, first))
 			b, e := Of(typedOf(t, second))
@@ -179,8 +177,8 @@ func TestOtherBodies(t *testing.T) {
 func TestNames(t *testing.T) {
 	r := rand.New(rand.NewSource(205))
 	for range 100 {
-		m := &maker{r: r}
-		u := typedOf(t, m.source(2))
+		m := &sourcetest.Maker{Choose: r.Intn}
+		u := typedOf(t, m.Source(2))
 		renamed := plain(reflect.ValueOf(u.Tree)).Interface().(api.Tree)
 		for n, v := range u.Vars {
 			if v >= 0 {
@@ -208,80 +206,6 @@ func TestNames(t *testing.T) {
 			if !alike(a.Fns[f], b.Fns[f]) {
 				t.Fatal("another function", f)
 			}
-		}
-	}
-}
-
-// room is where a list lies in memory, with its spare room.
-type room struct{ from, to uintptr }
-
-// rooms are those of all lists below a value.
-func rooms(v reflect.Value) []room {
-	var l []room
-	switch v.Kind() {
-	case reflect.Struct:
-		for k := range v.NumField() {
-			l = append(l, rooms(v.Field(k))...)
-		}
-	case reflect.Slice:
-		if v.Cap() > 0 {
-			l = append(l, room{v.Pointer(), v.Pointer() + uintptr(v.Cap())*v.Type().Elem().Size()})
-		}
-		for k := range v.Len() {
-			l = append(l, rooms(v.Index(k))...)
-		}
-	}
-	return l
-}
-
-// wantApart holds lists to lie in no other one's room.
-func wantApart(t *testing.T, l []room) {
-	t.Helper()
-	slices.SortFunc(l, func(a, b room) int {
-		if a.from < b.from {
-			return -1
-		}
-		return 1
-	})
-	for k := 1; k < len(l); k++ {
-		if l[k].from < l[k-1].to {
-			t.Fatal("two lists share their room")
-		}
-	}
-}
-
-// R3: answers share no memory with what is handed in, or with each other; what is handed in is not changed.
-func TestMemory(t *testing.T) {
-	r := rand.New(rand.NewSource(206))
-	for range 40 {
-		m := &maker{r: r}
-		u := typedOf(t, m.source(2))
-		old := plain(reflect.ValueOf(u))
-		a, d := Of(u)
-		b, _ := Of(u)
-		if d.Code != api.OK {
-			continue
-		}
-		kept := []any{u, a, b} // all of them, so that no memory is given out twice
-		for f := range u.Items.Fns {
-			first, _ := Locals(u, f)
-			second, _ := Locals(u, f)
-			kept = append(kept, first, second)
-		}
-		for range 20 {
-			n := r.Intn(len(u.Tree.Nodes))
-			first, _ := Place(u, n)
-			second, _ := Place(u, n)
-			kept = append(kept, first, second)
-		}
-		var l []room
-		for _, x := range kept {
-			l = append(l, rooms(reflect.ValueOf(x))...)
-		}
-		wantApart(t, l)
-		runtime.KeepAlive(kept)
-		if !reflect.DeepEqual(plain(reflect.ValueOf(u)).Interface(), old.Interface()) {
-			t.Fatal("changed")
 		}
 	}
 }

@@ -9,6 +9,7 @@ import (
 	"patina/check"
 	"patina/mir"
 	"patina/parse"
+	"patina/sourcetest"
 )
 
 // typedOf is the typed tree of a source that is right.
@@ -53,11 +54,11 @@ func plain(v reflect.Value) reflect.Value {
 func TestMadeSources(t *testing.T) {
 	r := rand.New(rand.NewSource(20))
 	for range 400 {
-		m := &maker{r: r}
-		source := m.source(r.Intn(4))
+		m := &sourcetest.Maker{Choose: r.Intn}
+		source := m.Source(r.Intn(4))
 		u := typedOf(t, source)
 		if r.Intn(2) == 0 {
-			u, _ = check.Of(shuffled(r, u.Tree))
+			u, _ = check.Of(sourcetest.Shuffled(r.Intn, u.Tree))
 		}
 		want, wd := modelOf(u)
 		got, d := Of(u)

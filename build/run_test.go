@@ -9,6 +9,7 @@ import (
 	"patina/check"
 	"patina/eval"
 	"patina/mirun"
+	"patina/sourcetest"
 )
 
 // 21.4: what is built does what its tree does: where the run of one of both ends, so does the other one's, with the same code and the same output. (None of these sources has a match of a place behind a pointer that is gone, whose first arm is _: the tree finds that place, and is undefined; MIR has nothing of it.)
@@ -17,11 +18,11 @@ func TestDoesWhatTheTreeDoes(t *testing.T) {
 	r := rand.New(rand.NewSource(214))
 	codes := map[int]int{}
 	for k := range 1000 {
-		m := &maker{r: r, plain: k%5 == 0}
-		source := m.source(r.Intn(4))
+		m := &sourcetest.Maker{Choose: r.Intn, Plain: k%5 == 0}
+		source := m.Source(r.Intn(4))
 		u := typedOf(t, source)
 		if r.Intn(2) == 0 {
-			u, _ = check.Of(shuffled(r, u.Tree))
+			u, _ = check.Of(sourcetest.Shuffled(r.Intn, u.Tree))
 		}
 		x, d := Of(u)
 		if d.Code != api.OK {

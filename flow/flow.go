@@ -25,7 +25,7 @@ type Step struct {
 // New is what goes and comes back in a function. Its table has the locals, the places that are named where a way leads, and those that are handed in.
 func New(f api.MFn, more ...api.Place) *Flow {
 	l := &Flow{Fn: f, Next: NextOf(f.Blocks), Steps: make([][][]Step, len(f.Blocks))}
-	l.Order = Order(l.Next)
+	l.Order = Order(l.Next, 0)
 	named := slices.Clone(more)
 	for k := range f.Locals {
 		named = append(named, api.Place{Local: k})
@@ -63,21 +63,25 @@ func NextOf(blocks []api.MBlock) [][]int {
 	return l
 }
 
-// Order are the blocks to which a way leads, each ahead of what comes behind it, but for rings. (It is mir's own order; but that looks at all functions again each time it is asked.)
-func Order(next [][]int) []int {
+// Order are those to which a way leads from some of them, each ahead of what comes behind it, but for rings. (Of blocks it is mir's own order; but that looks at all functions again each time it is asked.)
+func Order(next [][]int, first ...int) []int {
 	var left []int
 	seen := make([]bool, len(next))
-	var walk func(b int)
-	walk = func(b int) {
-		seen[b] = true
-		for _, to := range next[b] {
+	var walk func(k int)
+	walk = func(k int) {
+		seen[k] = true
+		for _, to := range next[k] {
 			if !seen[to] {
 				walk(to)
 			}
 		}
-		left = append(left, b)
+		left = append(left, k)
 	}
-	walk(0)
+	for _, k := range first {
+		if !seen[k] {
+			walk(k)
+		}
+	}
 	slices.Reverse(left)
 	return left
 }
@@ -138,7 +142,7 @@ func (l *Flow) Pass(gone Set, b, i int) {
 // Do does one step: what it takes or loses goes, what it sets comes back.
 func (l *Flow) Do(gone Set, s Step) {
 	switch s.Kind {
-	case Takes, Loses:
+	case Moves, Drops, Frees, Begins, Ends:
 		l.Put(gone, s.Place)
 	case Sets:
 		if !l.HasAround(gone, s.Place) {

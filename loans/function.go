@@ -59,7 +59,7 @@ func newFunction(f api.MFn) *function {
 }
 
 func (x *function) putInOrder() {
-	x.order = flow.Order(x.next)
+	x.order = flow.Order(x.next, 0)
 	x.reached = len(x.order)
 	come := make([]bool, len(x.next))
 	for _, b := range x.order {
@@ -93,15 +93,15 @@ func (x *function) origins(l []api.Place) []local {
 func (x *function) stepOf(b api.MBlock, i int) step {
 	s := step{sets: noLocal, kills: noLocal, issued: noLoan}
 	var used []api.Place
-	for _, d := range deedsAt(b, i) {
-		if d.uses() {
-			used = append(used, d.place)
+	for _, d := range flow.DeedsAt(b, i) {
+		if uses(d) {
+			used = append(used, d.Place)
 		}
-		if d.kills() {
-			s.kills = local(d.place.Local)
+		if kills(d) {
+			s.kills = local(d.Place.Local)
 		}
-		if d.setsWhole() && x.isOrigin(d.place.Local) {
-			s.sets = local(d.place.Local)
+		if setsWhole(d) && x.isOrigin(d.Place.Local) {
+			s.sets = local(d.Place.Local)
 			s.from = x.origins(sourcesAt(b, i))
 		}
 	}
@@ -124,8 +124,8 @@ func sourcesAt(b api.MBlock, i int) []api.Place {
 // placesOf are the places of operands that are no constants.
 func placesOf(l []api.Operand) []api.Place {
 	var places []api.Place
-	for _, d := range deedsOfOperands(nil, l...) {
-		places = append(places, d.place)
+	for _, d := range flow.DeedsOf(l...) {
+		places = append(places, d.Place)
 	}
 	return places
 }
@@ -133,9 +133,9 @@ func placesOf(l []api.Operand) []api.Place {
 // against are the loans that what stands at a point invalidates.
 func (x *function) against(b, i int) set[loan] {
 	var l set[loan]
-	for _, d := range deedsAt(x.fn.Blocks[b], i) {
-		for k := range x.lent[local(d.place.Local)].all() {
-			if k != x.steps[b][i].issued && d.breaks(x.loans[k]) {
+	for _, d := range flow.DeedsAt(x.fn.Blocks[b], i) {
+		for k := range x.lent[local(d.Place.Local)].all() {
+			if k != x.steps[b][i].issued && breaks(d, x.loans[k]) {
 				l.put(k)
 			}
 		}

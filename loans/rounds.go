@@ -5,51 +5,84 @@ import (
 	"slices"
 
 	"patina/api"
+	"patina/flow"
 )
 
 // held is which origins hold which loans.
 type held = relation[local, loan]
 
-// rounds are what is held at the beginnings of blocks, and what of that is new since a block was last handed out.
+// rounds are what is held at the beginnings of blocks, and what of that is new: of each origin, block by block, since that block was last handed out for it.
 type rounds struct {
-	order []int
-	at    []held
-	fresh []held
-	due   []bool // whether a block is to be handed out
+	blocks  []int
+	origins []local
+	at      []held
+	fresh   map[local][]set[loan]
 }
 
 // heldAtBeginnings brings what is held at the beginnings of blocks to its least: each pair goes its way by itself, so what is new goes on alone.
 func (x *function) heldAtBeginnings() []held {
-	r := &rounds{x.order, make([]held, len(x.next)), make([]held, len(x.next)), make([]bool, len(x.next))}
-	for b := range x.next {
-		r.at[b], r.fresh[b], r.due[b] = held{}, held{}, true // each is handed out once, for the loans that it issues
+	r := &rounds{x.order, x.originsInOrder(), make([]held, len(x.next)), map[local][]set[loan]{}}
+	for b := range r.at {
+		r.at[b] = held{}
 	}
-	for b, fresh := range r.all() {
-		for _, s := range x.steps[b] {
-			x.pass(fresh, s)
-		}
-		for _, to := range x.next[b] {
-			for o, l := range fresh {
-				if x.live[to].has(o) {
-					r.add(to, o, l)
-				}
-			}
-		}
+	for b := range r.at {
+		x.goOn(r, b, held{}) // for the loans that it issues
+	}
+	for at, fresh := range r.all() {
+		x.goOn(r, at.block, held{at.origin: fresh})
 	}
 	return r.at
 }
 
-// all hands out blocks, with what is new at their beginnings, until nothing is new.
-func (r *rounds) all() iter.Seq2[int, held] {
-	return func(yield func(int, held) bool) {
-		for slices.Contains(r.due, true) {
-			for _, b := range r.order {
-				fresh := r.fresh[b]
-				if !r.due[b] {
-					continue
-				}
-				r.due[b], r.fresh[b] = false, held{}
-				if !yield(b, fresh) {
+// goOn lets what is new at a block's beginning go on to the blocks behind it.
+func (x *function) goOn(r *rounds, b int, fresh held) {
+	for _, s := range x.steps[b] {
+		x.pass(fresh, s)
+	}
+	for _, to := range x.next[b] {
+		for o, l := range fresh {
+			if x.live[to].has(o) {
+				r.add(to, o, l)
+			}
+		}
+	}
+}
+
+// originsInOrder are the origins, each behind those out of which its loans come, but for rings.
+func (x *function) originsInOrder() []local {
+	to := make([][]int, len(x.fn.Locals))
+	var all []int
+	for _, steps := range x.steps {
+		for _, s := range steps {
+			for _, o := range s.from {
+				to[o] = append(to[o], int(s.sets))
+			}
+		}
+	}
+	for l := range x.fn.Locals {
+		if x.isOrigin(l) {
+			all = append(all, l)
+		}
+	}
+	var l []local
+	for _, o := range flow.Order(to, all...) {
+		l = append(l, local(o))
+	}
+	return l
+}
+
+// beginning is an origin at a block's beginning.
+type beginning struct {
+	origin local
+	block  int
+}
+
+// all hands out origins and blocks, with the loans that are new there, until nothing is new: one origin in all blocks ahead of the next one, since what it gets in a ring goes on to others together.
+func (r *rounds) all() iter.Seq2[beginning, set[loan]] {
+	return func(yield func(beginning, set[loan]) bool) {
+		for len(r.fresh) > 0 {
+			for _, o := range r.origins {
+				if !r.allOf(o, yield) {
 					return
 				}
 			}
@@ -57,12 +90,36 @@ func (r *rounds) all() iter.Seq2[int, held] {
 	}
 }
 
+// allOf hands out what is new of one origin, until nothing of it is.
+func (r *rounds) allOf(o local, yield func(beginning, set[loan]) bool) bool {
+	fresh := r.fresh[o]
+	for again := fresh != nil; again; {
+		again = false
+		for _, b := range r.blocks {
+			l := fresh[b]
+			if l == nil {
+				continue
+			}
+			fresh[b], again = nil, true
+			if !yield(beginning{o, b}, l) {
+				return false
+			}
+		}
+	}
+	delete(r.fresh, o)
+	return true
+}
+
 // add lets an origin hold loans at a block's beginning.
 func (r *rounds) add(b int, o local, l set[loan]) {
-	if fresh := r.at[b].add(o, l); fresh != nil {
-		r.fresh[b].add(o, fresh)
-		r.due[b] = true
+	fresh := r.at[b].add(o, l)
+	if fresh == nil {
+		return
 	}
+	if r.fresh[o] == nil {
+		r.fresh[o] = make([]set[loan], len(r.at))
+	}
+	r.fresh[o][b].join(fresh)
 }
 
 // pass changes what is held at a point to what is held behind it, as far as that is live whatever comes behind a block's end.
@@ -104,7 +161,7 @@ func (x *function) firstError() api.Diag {
 		h := at[b]
 		for i, s := range x.steps[b] {
 			if h.meets(x.against(b, i)) {
-				return diag(x.fn.Blocks[b], i)
+				return flow.DiagAt(errorAt(x.fn.Blocks[b], i), x.fn.Blocks[b], i)
 			}
 			x.pass(h, s)
 		}
@@ -112,13 +169,10 @@ func (x *function) firstError() api.Diag {
 	return api.Diag{}
 }
 
-func diag(b api.MBlock, i int) api.Diag {
-	if i == len(b.Stmts) {
-		return api.Diag{Code: api.ErrBorrow, From: b.Term.At, To: b.Term.Till}
+// errorAt is what is wrong where a loan that is alive is invalidated at a point.
+func errorAt(b api.MBlock, i int) api.Errno {
+	if i < len(b.Stmts) && b.Stmts[i].Kind != api.MSet {
+		return api.ErrGone
 	}
-	s := b.Stmts[i]
-	if s.Kind == api.MSet {
-		return api.Diag{Code: api.ErrBorrow, From: s.From, To: s.To}
-	}
-	return api.Diag{Code: api.ErrGone, From: s.From, To: s.To}
+	return api.ErrBorrow
 }

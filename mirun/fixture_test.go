@@ -4,7 +4,6 @@ import (
 	"bytes"
 	"slices"
 	"strconv"
-	"strings"
 	"sync"
 	"testing"
 
@@ -54,15 +53,6 @@ func locals() []string {
 	return []string{"()", "i64", "bool", "Box<i64>", "S", "&S", "&mut S", "E", "&E", "P", "Box<S>", "N", "L", "&i64", "&mut i64", "Box<Box<i64>>", "D", "X", "X", "&mut Box<i64>", "i64", "Box<L>", "&mut L", "Box<()>", "Box<N>", "&()", "Box<i64>", "&mut X", "Box<D>", "&Box<i64>", "()", "bool", "Box<P>", "&mut Box<S>", "&mut Box<E>", "Box<E>"}
 }
 
-// head is a function's text up to its parameters.
-func head(f api.Fn) string {
-	s := "fn " + f.Name + "\n0: " + f.Ret + "\n"
-	for k, p := range f.Params {
-		s += strconv.Itoa(k+1) + ": " + p.Type + "\n"
-	}
-	return s
-}
-
 // ahead are the items, and the texts of all functions ahead of main.
 var ahead = sync.OnceValues(func() (api.Items, []string) {
 	source := ofTypes
@@ -76,7 +66,7 @@ var ahead = sync.OnceValues(func() (api.Items, []string) {
 	}
 	var texts []string
 	for k, h := range helpers() {
-		texts = append(texts, head(it.Fns[k])+strings.ReplaceAll(h[1], "; ", "\n")+"\n")
+		texts = append(texts, mirtest.Head(it.Fns[k])+mirtest.Lines(h[1]))
 	}
 	return it, texts
 })
@@ -100,34 +90,21 @@ func programOf(t *testing.T, body string) api.Mir {
 	return m
 }
 
-// bodyOf is the body of a row of lines. Behind a line that calls a new block begins; print A, and _P = call .. without a block, are such; at the end main returns.
+// bodyOf is the body of a row of lines.
 func bodyOf(row string) string {
-	s, blocks, open := "bb0\n", 1, true
-	for _, line := range strings.Split(row, "; ") {
-		if arg, is := strings.CutPrefix(line, "print "); is {
-			line = "_0 = call print " + arg
-		}
-		word, _, _ := strings.Cut(line, " ")
-		switch open = true; {
-		case strings.Contains(line, " = call ") && !strings.Contains(line, "->"):
-			line += " -> " + strconv.Itoa(blocks) + "\nbb"
-			blocks++
-		case strings.HasPrefix(line, "bb"):
-			blocks++
-		case word == "return" || word == "panic" || word == "goto" || word == "if" || word == "switch" || strings.Contains(line, "->"):
-			open = false
-		}
-		s += line + "\n"
-	}
-	if open {
-		s += "return\n"
-	}
-	return s
+	body, _ := mirtest.Blocks(row)
+	return body
 }
 
 func rowOf(t *testing.T, row string) api.Mir {
 	t.Helper()
 	return programOf(t, bodyOf(row))
+}
+
+// modelRun is what the model tells of a function with numbers.
+func modelRun(m api.Mir, name string, args []int64, in []byte, fuel int) (int64, api.Outcome) {
+	o := mirtest.Run(m, name, args, in, fuel)
+	return o.Told, o.Outcome
 }
 
 // done is an outcome of a program that ended.

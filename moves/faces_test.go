@@ -44,7 +44,7 @@ func usesText(places []api.Place, moved []bool) string {
 		if moved[k] {
 			word = "move "
 		}
-		l = append(l, word+placeTexts([]api.Place{p}))
+		l = append(l, word+mirtest.PlaceText(p))
 	}
 	return strings.Join(l, ", ")
 }

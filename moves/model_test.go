@@ -1,76 +1,14 @@
 package moves
 
 import (
-	"cmp"
 	"maps"
 	"slices"
 	"strings"
 
 	"patina/api"
+	"patina/mirtest"
 	"patina/types"
 )
-
-// gone is what is gone on one way: places, none within another one.
-type gone []api.Place
-
-func isWithin(p, q api.Place) bool {
-	for k, n := range q.Path {
-		if k >= len(p.Path) || p.Path[k] != n {
-			return false
-		}
-	}
-	return p.Local == q.Local
-}
-
-// has tells whether a place is gone.
-func (g gone) has(p api.Place) bool {
-	return slices.ContainsFunc(g, func(q api.Place) bool { return isWithin(p, q) })
-}
-
-func (g gone) hasPart(p api.Place) bool {
-	return slices.ContainsFunc(g, func(q api.Place) bool { return isWithin(q, p) })
-}
-
-// without are all but those that are within a place.
-func (g gone) without(p api.Place) gone {
-	return slices.DeleteFunc(slices.Clone(g), func(q api.Place) bool { return isWithin(q, p) })
-}
-
-func (g gone) with(p api.Place) gone {
-	if g.has(p) {
-		return g
-	}
-	return append(g.without(p), p)
-}
-
-func (g gone) sorted() gone {
-	return slices.SortedFunc(slices.Values(g), func(a, b api.Place) int {
-		if a.Local != b.Local {
-			return cmp.Compare(a.Local, b.Local)
-		}
-		return slices.Compare(a.Path, b.Path)
-	})
-}
-
-// outer are those that are within no other one, each once.
-func (g gone) outer() gone {
-	all := map[string]api.Place{}
-	for _, p := range g {
-		all[placeTexts([]api.Place{p})] = p
-	}
-	var l gone
-	for _, p := range all {
-		isOuter := true
-		for k := range p.Path {
-			_, there := all[placeTexts([]api.Place{{Local: p.Local, Path: p.Path[:k]}})]
-			isOuter = isOuter && !there
-		}
-		if isOuter {
-			l = append(l, p)
-		}
-	}
-	return l.sorted()
-}
 
 // point is the statement or the end at a point.
 type point struct {
@@ -108,41 +46,26 @@ func (p point) sets() (api.Place, bool) {
 	return p.s.Place, p.s.Kind == api.MSet
 }
 
-// behind is what is gone behind a point.
-func (p point) behind(g gone) gone {
-	for _, o := range p.operands() {
-		if o.Kind == api.OMove {
-			g = g.with(o.Place)
-		}
-	}
-	if place, is := p.sets(); is {
-		g = g.without(place)
-	} else if !p.isEnd {
-		g = g.with(p.s.Place)
-	}
-	return g
-}
-
 // wrong is the first wrong use at a point.
-func (p point) wrong(f api.MFn, g gone) api.Errno {
+func (p point) wrong(f api.MFn, g mirtest.Gone) api.Errno {
 	for _, o := range p.operands() {
 		if o.Kind == api.OMove && isOut(f, o.Place) {
 			return api.ErrMoveOut
 		}
-		if (o.Kind == api.OMove || o.Kind == api.OCopy) && (g.has(o.Place) || g.hasPart(o.Place)) {
+		if (o.Kind == api.OMove || o.Kind == api.OCopy) && g.HasPart(o.Place) {
 			return api.ErrMoved
 		}
 		if o.Kind == api.OMove {
-			g = g.with(o.Place)
+			g = g.With(o.Place)
 		}
 	}
-	if place, is := p.lends(); is && (g.has(place) || g.hasPart(place)) {
+	if place, is := p.lends(); is && g.HasPart(place) {
 		return api.ErrMoved
 	}
-	if place, is := p.sets(); is && len(place.Path) > 0 && g.has(api.Place{Local: place.Local, Path: place.Path[:len(place.Path)-1]}) {
+	if place, is := p.sets(); is && len(place.Path) > 0 && g.Has(api.Place{Local: place.Local, Path: place.Path[:len(place.Path)-1]}) {
 		return api.ErrMoved
 	}
-	if p.isEnd && p.t.Kind == api.TReturn && (g.has(api.Place{}) || g.hasPart(api.Place{})) {
+	if p.isEnd && p.t.Kind == api.TReturn && g.HasPart(api.Place{}) {
 		return api.ErrMoved
 	}
 	return api.OK
@@ -155,36 +78,30 @@ func isOut(f api.MFn, p api.Place) bool {
 }
 
 // ways are what is gone on all ways to each block's beginning, each once; false: there are too many to go through.
-func ways(f api.MFn) ([]map[string]gone, bool) {
-	at := make([]map[string]gone, len(f.Blocks))
-	var first gone
-	for k := range f.Locals {
-		if k == 0 || k > f.Params {
-			first = append(first, api.Place{Local: k})
-		}
-	}
+func ways(f api.MFn) ([]map[string]mirtest.Gone, bool) {
+	at := make([]map[string]mirtest.Gone, len(f.Blocks))
 	type state struct {
 		block int
-		g     gone
+		g     mirtest.Gone
 	}
-	list := []state{{0, first}}
+	list := []state{{0, mirtest.AtFirst(f)}}
 	for count := 0; len(list) > 0; count++ {
 		if count > 300 {
 			return nil, false
 		}
 		x := list[len(list)-1]
 		list = list[:len(list)-1]
-		key := placeTexts(x.g.sorted())
+		key := mirtest.PlaceTexts(x.g.Outer())
 		if _, seen := at[x.block][key]; seen {
 			continue
 		}
 		if at[x.block] == nil {
-			at[x.block] = map[string]gone{}
+			at[x.block] = map[string]mirtest.Gone{}
 		}
 		at[x.block][key] = x.g
 		b := f.Blocks[x.block]
 		for i := range len(b.Stmts) + 1 {
-			x.g = pointOf(b, i).behind(x.g)
+			x.g = x.g.Behind(b, i)
 		}
 		for _, to := range b.Term.To {
 			list = append(list, state{to, x.g})
@@ -194,29 +111,29 @@ func ways(f api.MFn) ([]map[string]gone, bool) {
 }
 
 // maybe and sure are what may be gone, and is surely gone, of ways.
-func maybe(l []gone) gone {
-	var all gone
+func maybe(l []mirtest.Gone) mirtest.Gone {
+	var all mirtest.Gone
 	for _, g := range l {
 		all = append(all, g...)
 	}
-	return all.outer()
+	return all.Outer()
 }
 
-func sure(l []gone) gone {
+func sure(l []mirtest.Gone) mirtest.Gone {
 	all := slices.DeleteFunc(slices.Concat(l...), func(p api.Place) bool {
-		return slices.ContainsFunc(l, func(g gone) bool { return !g.has(p) })
+		return slices.ContainsFunc(l, func(g mirtest.Gone) bool { return !g.Has(p) })
 	})
-	return all.outer()
+	return all.Outer()
 }
 
 // pointsOf are the ways to each point of a block.
-func pointsOf(b api.MBlock, at map[string]gone) [][]gone {
+func pointsOf(b api.MBlock, at map[string]mirtest.Gone) [][]mirtest.Gone {
 	l := slices.Collect(maps.Values(at))
-	points := [][]gone{l}
+	points := [][]mirtest.Gone{l}
 	for i := range b.Stmts {
-		next := make([]gone, len(l))
+		next := make([]mirtest.Gone, len(l))
 		for k, g := range points[i] {
-			next[k] = pointOf(b, i).behind(g)
+			next[k] = g.Behind(b, i)
 		}
 		points = append(points, next)
 	}
@@ -253,13 +170,13 @@ func (p point) uses() string {
 	for _, o := range p.operands() {
 		switch o.Kind {
 		case api.OMove:
-			l = append(l, "move "+placeTexts([]api.Place{o.Place}))
+			l = append(l, "move "+mirtest.PlaceText(o.Place))
 		case api.OCopy:
-			l = append(l, "use "+placeTexts([]api.Place{o.Place}))
+			l = append(l, "use "+mirtest.PlaceText(o.Place))
 		}
 	}
 	if place, is := p.lends(); is {
-		l = append(l, "use "+placeTexts([]api.Place{place}))
+		l = append(l, "use "+mirtest.PlaceText(place))
 	}
 	return strings.Join(l, ", ")
 }

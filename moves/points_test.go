@@ -6,6 +6,7 @@ import (
 	"testing"
 
 	"patina/api"
+	"patina/mirtest"
 )
 
 // wantPoints holds the function of a text to what its lines say behind #: what may be gone ahead of that line, and, behind |, what is surely gone, if that is not the same. - is nothing.
@@ -31,7 +32,7 @@ func wantPoints(t *testing.T, head, text string) {
 			notes = notes[1:]
 			wantPlaces(t, m, b, i, Maybe, may)
 			wantPlaces(t, m, b, i, Sure, must)
-			if x, y := placeTexts(maybe(points[i])), placeTexts(sure(points[i])); x != dash(may) || y != dash(must) {
+			if x, y := mirtest.PlaceTexts(maybe(points[i])), mirtest.PlaceTexts(sure(points[i])); x != dash(may) || y != dash(must) {
 				t.Errorf("%d.%d: the model says %s | %s", b, i, x, y)
 			}
 		}
@@ -42,8 +43,8 @@ func dash(s string) string { return strings.TrimPrefix(s, "-") }
 
 func wantPlaces(t *testing.T, m api.Mir, b, i int, face func(m api.Mir, f, b, i int) ([]api.Place, api.Errno), want string) {
 	t.Helper()
-	if l, e := face(m, 0, b, i); e != api.OK || placeTexts(l) != dash(want) {
-		t.Errorf("%d.%d: %s %v, not %s", b, i, placeTexts(l), e, want)
+	if l, e := face(m, 0, b, i); e != api.OK || mirtest.PlaceTexts(l) != dash(want) {
+		t.Errorf("%d.%d: %s %v, not %s", b, i, mirtest.PlaceTexts(l), e, want)
 	}
 }
 
@@ -252,7 +253,7 @@ func TestReturns(t *testing.T) {
 		"bb0; if copy _2 1 2; bb1; _0 = move _1; goto 3; bb2; _0 = call give -> 3; bb3; return": {},
 		"bb0; if copy _2 1 2; bb1; _0 = move _1; return; bb2; panic 103":                        {}, "bb0; goto 0": {},
 	} {
-		m := programOf(t, it, lines(text))
+		m := programOf(t, it, mirtest.Lines(text))
 		if d := Check(m); d != want || modelCheck(m) != want {
 			t.Errorf("%s: %v, not %v", text, d, want)
 		}

@@ -2,7 +2,6 @@ package moves
 
 import (
 	"math/rand"
-	"reflect"
 	"slices"
 	"testing"
 
@@ -46,8 +45,8 @@ func wantAsTheModel(t *testing.T, r *rand.Rand, m api.Mir) int {
 				may, e := Maybe(m, f, b, i)
 				must, g := Sure(m, f, b, i)
 				places, moved, h := Uses(m, f, b, i)
-				if e != api.OK || g != api.OK || h != api.OK || placeTexts(may) != placeTexts(maybe(points[i])) || placeTexts(must) != placeTexts(sure(points[i])) || usesText(places, moved) != pointOf(block, i).uses() {
-					t.Fatalf("%d.%d.%d: %v | %v, not %v | %v\n%s", f, b, i, placeTexts(may), placeTexts(must), placeTexts(maybe(points[i])), placeTexts(sure(points[i])), textOf(m))
+				if e != api.OK || g != api.OK || h != api.OK || mirtest.PlaceTexts(may) != mirtest.PlaceTexts(maybe(points[i])) || mirtest.PlaceTexts(must) != mirtest.PlaceTexts(sure(points[i])) || usesText(places, moved) != pointOf(block, i).uses() {
+					t.Fatalf("%d.%d.%d: %v | %v, not %v | %v\n%s", f, b, i, mirtest.PlaceTexts(may), mirtest.PlaceTexts(must), mirtest.PlaceTexts(maybe(points[i])), mirtest.PlaceTexts(sure(points[i])), textOf(m))
 				}
 				wantLeast(t, may, must)
 			}
@@ -149,81 +148,4 @@ func TestSources(t *testing.T) {
 			t.Errorf("%s: %v, not %v", c.body, got, want)
 		}
 	}
-}
-
-// R3: what is handed in is not changed; answers share no memory with it, or with each other.
-func TestMemory(t *testing.T) {
-	r := rand.New(rand.NewSource(223))
-	for range 30 {
-		m := (&mirtest.Maker{Choose: r.Intn}).Program()
-		before := copyOf(reflect.ValueOf(m)).Interface()
-		kept := []any{m}
-		for f, fn := range m.Fns {
-			for b, block := range fn.Blocks {
-				i := r.Intn(len(block.Stmts) + 1)
-				for range 2 {
-					a, _ := Maybe(m, f, b, i)
-					c, _ := Sure(m, f, b, i)
-					d, e, _ := Uses(m, f, b, i)
-					g, _ := Reached(m, f)
-					kept = append(kept, a, c, d, e, g)
-				}
-			}
-		}
-		Check(m)
-		var l []room
-		for _, x := range kept {
-			l = append(l, rooms(reflect.ValueOf(x))...)
-		}
-		slices.SortFunc(l, func(a, b room) int { return int(a.from - b.from) })
-		for k := 1; k < len(l); k++ {
-			if l[k].from < l[k-1].to {
-				t.Fatal("two lists share their room")
-			}
-		}
-		if !reflect.DeepEqual(copyOf(reflect.ValueOf(m)).Interface(), before) {
-			t.Fatal("changed")
-		}
-	}
-}
-
-// room is where a list lies in memory, with its spare room.
-type room struct{ from, to uintptr }
-
-// rooms are those of all lists below a value.
-func rooms(v reflect.Value) []room {
-	var l []room
-	switch v.Kind() {
-	case reflect.Struct:
-		for k := range v.NumField() {
-			l = append(l, rooms(v.Field(k))...)
-		}
-	case reflect.Slice:
-		if v.Cap() > 0 {
-			l = append(l, room{v.Pointer(), v.Pointer() + uintptr(v.Cap())*v.Type().Elem().Size()})
-		}
-		for k := range v.Len() {
-			l = append(l, rooms(v.Index(k))...)
-		}
-	}
-	return l
-}
-
-// copyOf is a value in new memory.
-func copyOf(v reflect.Value) reflect.Value {
-	switch v.Kind() {
-	case reflect.Struct:
-		c := reflect.New(v.Type()).Elem()
-		for k := range v.NumField() {
-			c.Field(k).Set(copyOf(v.Field(k)))
-		}
-		return c
-	case reflect.Slice:
-		c := reflect.Zero(v.Type())
-		for k := range v.Len() {
-			c = reflect.Append(c, copyOf(v.Index(k)))
-		}
-		return c
-	}
-	return v
 }

@@ -13,7 +13,7 @@ func firstWrong(f api.MFn) api.Diag {
 		for i, steps := range l.Steps[b] {
 			for _, s := range steps {
 				if e := wrong(l, gone, s); e != api.OK {
-					return diag(e, f.Blocks[b], i)
+					return flow.DiagAt(e, f.Blocks[b], i)
 				}
 				l.Do(gone, s)
 			}
@@ -26,12 +26,12 @@ func firstWrong(f api.MFn) api.Diag {
 func wrong(l *flow.Flow, gone flow.Set, s flow.Step) api.Errno {
 	isWrong := false
 	switch s.Kind {
-	case flow.Takes:
+	case flow.Moves:
 		if isBehindReference(l.Fn, l.Places[s.Place]) {
 			return api.ErrMoveOut
 		}
 		fallthrough
-	case flow.Reads, flow.Tells:
+	case flow.Copies, flow.Lends, flow.LendsMut, flow.Asks, flow.Tells:
 		isWrong = l.HasPart(gone, s.Place)
 	case flow.Sets:
 		isWrong = l.HasAround(gone, s.Place)
@@ -46,11 +46,4 @@ func wrong(l *flow.Flow, gone flow.Set, s flow.Step) api.Errno {
 func isBehindReference(f api.MFn, p api.Place) bool {
 	ref, _ := types.Ref(f.Locals[p.Local].Type)
 	return ref && len(p.Path) > 0
-}
-
-func diag(e api.Errno, b api.MBlock, i int) api.Diag {
-	if i == len(b.Stmts) {
-		return api.Diag{Code: e, From: b.Term.At, To: b.Term.Till}
-	}
-	return api.Diag{Code: e, From: b.Stmts[i].From, To: b.Stmts[i].To}
 }

@@ -1,7 +1,6 @@
-package mirun
+package mirtest
 
 import (
-	"math/big"
 	"slices"
 	"strconv"
 
@@ -10,6 +9,13 @@ import (
 	"patina/types"
 )
 
+// Outcome is how a run ended, what it told, and how many blocks of the heap were left.
+type Outcome struct {
+	api.Outcome
+	Told int64
+	Left int
+}
+
 // model is a second semantics of MIR, by the chapters' words, over what types and items tell of each type anew.
 type model struct {
 	m     api.Mir
@@ -17,6 +23,7 @@ type model struct {
 	fuel  int
 	o     api.Outcome
 	calls int
+	left  int // blocks of the heap that live
 	known map[string]*made
 }
 
@@ -31,12 +38,10 @@ type pointer struct {
 	at int
 }
 
-// stopped is what a run is left by.
-type stopped struct{}
-
+// stop leaves a run by a panic, which is caught where it began.
 func (m *model) stop(end, code int) {
 	m.o.End, m.o.Code = end, code
-	panic(stopped{})
+	panic(end)
 }
 
 func (m *model) undefinedIf(is bool) {
@@ -52,14 +57,13 @@ func (m *model) tick() {
 	m.o.Steps++
 }
 
-// modelRun is what a function does with numbers, and what it tells.
-func modelRun(x api.Mir, name string, args []int64, in []byte, fuel int) (v int64, o api.Outcome) {
+// Run is what a function of a right program does with numbers.
+func Run(x api.Mir, name string, args []int64, in []byte, fuel int) (o Outcome) {
 	m := &model{m: x, in: in, fuel: fuel, known: map[string]*made{}}
 	defer func() {
-		if e := recover(); e == nil || e == (stopped{}) {
-			o = m.o
-		} else {
-			panic(e)
+		if m.o.End != 0 && o.End == 0 {
+			recover()
+			o = Outcome{Outcome: m.o, Left: m.left}
 		}
 	}()
 	f, _ := items.Fn(x.Items, name)
@@ -67,12 +71,13 @@ func modelRun(x api.Mir, name string, args []int64, in []byte, fuel int) (v int6
 	for _, n := range args {
 		values = append(values, []any{n})
 	}
+	var v int64
 	told := m.call(f, values)
 	if len(told) > 0 {
 		v = m.number(told[0])
 	}
 	m.o.End = api.EndDone
-	return v, m.o
+	return Outcome{m.o, v, m.left}
 }
 
 // made is how values of a type are made up.
@@ -195,7 +200,12 @@ func (m *model) drop(p pointer, t string) {
 	q := m.follow(c)
 	m.tick()
 	m.drop(q, inner(t))
-	q.to.ended = true
+	m.endBlock(q.to)
+}
+
+func (m *model) endBlock(block *thing) {
+	block.ended = true
+	m.left--
 }
 
 // inner is what a type points to.
@@ -295,6 +305,7 @@ func (x *activation) rvalue(r api.Rvalue) []any {
 		x.undefinedIf(p.to.ended)
 		return []any{p}
 	case api.RBox:
+		x.left++
 		return []any{pointer{&thing{cells: args}, 0}}
 	case api.RPick:
 		value := make([]any, x.of(r.Name).size)
@@ -305,33 +316,6 @@ func (x *activation) rvalue(r api.Rvalue) []any {
 		return []any{x.something(p)}
 	}
 	return args
-}
-
-func (m *model) sign(op string, a, b int64) int64 {
-	truth := map[string]bool{"<": a < b, "<=": a <= b, ">": a > b, ">=": a >= b, "==": a == b, "!=": a != b}
-	if holds, is := truth[op]; is {
-		return map[bool]int64{true: 1}[holds]
-	}
-	x, y, z := big.NewInt(a), big.NewInt(b), new(big.Int)
-	if b == 0 && (op == "/" || op == "%") {
-		m.stop(api.EndDone, api.ExitDivide)
-	}
-	switch op {
-	case "+":
-		z.Add(x, y)
-	case "-":
-		z.Sub(x, y)
-	case "*":
-		z.Mul(x, y)
-	case "/", "%":
-		if z.Quo(x, y); op == "%" && z.IsInt64() {
-			z.Rem(x, y)
-		}
-	}
-	if !z.IsInt64() {
-		m.stop(api.EndDone, api.ExitOverflow)
-	}
-	return z.Int64()
 }
 
 func (x *activation) statement(s api.MStmt) {
@@ -348,7 +332,7 @@ func (x *activation) statement(s api.MStmt) {
 		x.empty(p, t)
 	case api.MFree:
 		p, t := x.place(s.Place)
-		x.follow(x.something(p)).to.ended = true
+		x.endBlock(x.follow(x.something(p)).to)
 		x.empty(p, t)
 	case api.MLive:
 		x.locals[local].ended = true

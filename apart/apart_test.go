@@ -1,0 +1,229 @@
+// Package apart holds layers that take typed trees and MIR to R3: what is handed in is not changed, and answers share no memory with it, nor with each other.
+package apart
+
+import (
+	"math/rand"
+	"reflect"
+	"runtime"
+	"slices"
+	"testing"
+
+	"patina/api"
+	"patina/build"
+	"patina/check"
+	"patina/drops"
+	"patina/loans"
+	"patina/mirtest"
+	"patina/moves"
+	"patina/parse"
+	"patina/sourcetest"
+)
+
+// room is where a list lies in memory, with its spare room.
+type room struct{ from, to uintptr }
+
+// rooms are those of all lists below a value.
+func rooms(v reflect.Value) []room {
+	var l []room
+	switch v.Kind() {
+	case reflect.Struct:
+		for k := range v.NumField() {
+			l = append(l, rooms(v.Field(k))...)
+		}
+	case reflect.Slice:
+		if v.Cap() > 0 {
+			l = append(l, room{v.Pointer(), v.Pointer() + uintptr(v.Cap())*v.Type().Elem().Size()})
+		}
+		for k := range v.Len() {
+			l = append(l, rooms(v.Index(k))...)
+		}
+	}
+	return l
+}
+
+// copyOf is a value in new memory; lists without an element are nil.
+func copyOf(v reflect.Value) reflect.Value {
+	switch v.Kind() {
+	case reflect.Struct:
+		c := reflect.New(v.Type()).Elem()
+		for k := range v.NumField() {
+			c.Field(k).Set(copyOf(v.Field(k)))
+		}
+		return c
+	case reflect.Slice:
+		c := reflect.Zero(v.Type())
+		for k := range v.Len() {
+			c = reflect.Append(c, copyOf(v.Index(k)))
+		}
+		return c
+	}
+	return v
+}
+
+// shared tells whether two lists of values lie in one another's room.
+func shared(values []any) bool {
+	var l []room
+	for _, x := range values {
+		l = append(l, rooms(reflect.ValueOf(x))...)
+	}
+	slices.SortFunc(l, func(a, b room) int {
+		if a.from < b.from {
+			return -1
+		}
+		return 1
+	})
+	for k := 1; k < len(l); k++ {
+		if l[k].from < l[k-1].to {
+			return true
+		}
+	}
+	return false
+}
+
+// wantApart asks for answers about a value, twice, and holds them and it to R3.
+func wantApart(t *testing.T, x any, ask func() []any) {
+	t.Helper()
+	before := copyOf(reflect.ValueOf(x)).Interface()
+	kept := append(ask(), ask()...) // all of them, so that no memory is given out twice
+	if shared(append(kept, x)) {
+		t.Fatal("two lists share their room")
+	}
+	runtime.KeepAlive(kept)
+	if !reflect.DeepEqual(copyOf(reflect.ValueOf(x)).Interface(), before) {
+		t.Fatal("changed")
+	}
+}
+
+// A list that shares its room, if only its spare room, is found; so is one behind lists.
+func TestShared(t *testing.T) {
+	l := make([]int, 3, 8)
+	for _, c := range []struct {
+		values []any
+		want   bool
+	}{
+		{[]any{l, slices.Clone(l)}, false}, {[]any{l, l}, true}, {[]any{l, l[1:2]}, true}, {[]any{l[:1:1], l[1:]}, false}, {[]any{l[:1], l[5:6]}, true}, {[]any{api.Place{Path: l}, []api.Place{{}, {Path: l}}}, true}, {[]any{api.Place{Path: l}, []api.Place{{}, {}}}, false}, {[]any{l[:0], l[:0]}, true}, {[]any{[]int{}, []int{}}, false},
+	} {
+		if shared(c.values) != c.want {
+			t.Error(c)
+		}
+	}
+}
+
+// typedOf is the typed tree of a made source.
+func typedOf(r *rand.Rand) (api.Typed, bool) {
+	tree, _ := parse.Parse((&sourcetest.Maker{Choose: r.Intn}).Source(2))
+	u, d := check.Of(tree)
+	return u, d.Code == api.OK
+}
+
+func TestBuild(t *testing.T) {
+	r := rand.New(rand.NewSource(206))
+	for range 40 {
+		u, right := typedOf(r)
+		if !right {
+			t.Fatal("not right")
+		}
+		numbers := r.Perm(len(u.Tree.Nodes))[:20]
+		wantApart(t, u, func() []any {
+			m, _ := build.Of(u)
+			l := []any{m}
+			for f := range u.Items.Fns {
+				locals, _ := build.Locals(u, f)
+				l = append(l, locals)
+			}
+			for _, n := range numbers {
+				p, _ := build.Place(u, n)
+				l = append(l, p)
+			}
+			return l
+		})
+	}
+}
+
+// programs are made MIR, and what build makes of sources, with room to spare in lists.
+func programs(r *rand.Rand, count int) []api.Mir {
+	var l []api.Mir
+	for range count {
+		l = append(l, (&mirtest.Maker{Choose: r.Intn}).Program(), (&mirtest.Maker{Choose: r.Intn, Copied: true}).Program())
+		if u, right := typedOf(r); right {
+			m, _ := build.Of(u)
+			l = append(l, m)
+		}
+	}
+	for _, m := range l {
+		for f := range m.Fns {
+			for b := range m.Fns[f].Blocks {
+				block := &m.Fns[f].Blocks[b]
+				block.Stmts = slices.Grow(block.Stmts, 3)
+				block.Term.To = slices.Grow(block.Term.To, 3)
+			}
+		}
+	}
+	return l
+}
+
+// points are a block of each function, and a number in it.
+func points(r *rand.Rand, m api.Mir) [][3]int {
+	var l [][3]int
+	for f, fn := range m.Fns {
+		b := r.Intn(len(fn.Blocks))
+		l = append(l, [3]int{f, b, r.Intn(len(fn.Blocks[b].Stmts) + 1)})
+	}
+	return l
+}
+
+func TestMoves(t *testing.T) {
+	r := rand.New(rand.NewSource(223))
+	for _, m := range programs(r, 15) {
+		l := points(r, m)
+		wantApart(t, m, func() []any {
+			var kept []any
+			for _, p := range l {
+				a, _ := moves.Maybe(m, p[0], p[1], p[2])
+				b, _ := moves.Sure(m, p[0], p[1], p[2])
+				c, d, _ := moves.Uses(m, p[0], p[1], p[2])
+				e, _ := moves.Reached(m, p[0])
+				kept = append(kept, a, b, c, d, e)
+			}
+			return append(kept, moves.Check(m))
+		})
+	}
+}
+
+func TestDrops(t *testing.T) {
+	r := rand.New(rand.NewSource(233))
+	for _, m := range programs(r, 40) {
+		wantApart(t, m, func() []any {
+			made, e := drops.Make(m)
+			if e != api.OK {
+				t.Fatal(e)
+			}
+			kept := []any{made}
+			for f := range m.Fns {
+				l, _ := drops.Edges(m, f)
+				kept = append(kept, l)
+			}
+			return kept
+		})
+	}
+}
+
+func TestLoans(t *testing.T) {
+	r := rand.New(rand.NewSource(243))
+	for _, m := range programs(r, 15) {
+		l := points(r, m)
+		wantApart(t, m, func() []any {
+			kept := []any{loans.Check(m)}
+			for _, p := range l {
+				a, _ := loans.Loans(m, p[0])
+				b, _ := loans.Facts(m, p[0])
+				c, _ := loans.Holds(m, p[0], p[1], p[2])
+				d, _ := loans.Alive(m, p[0], p[1], p[2])
+				e, _ := loans.Live(m, p[0], p[1], p[2])
+				f, _ := loans.Against(m, p[0], p[1], p[2])
+				kept = append(kept, a, b, c, d, e, f)
+			}
+			return kept
+		})
+	}
+}
