@@ -9,6 +9,7 @@ import (
 	"patina/api"
 	"patina/items"
 	"patina/parse"
+	"patina/sourcetest"
 	"patina/tree"
 	"patina/types"
 )
@@ -21,7 +22,7 @@ func madeTyped(t *testing.T, m *maker, measure int) (api.Tree, api.Typed) {
 		t.Fatal(d)
 	}
 	if m.r.Intn(2) == 0 {
-		x = shuffled(m.r, x)
+		x = sourcetest.Shuffled(m.r.Intn, x)
 	}
 	typed, d := Of(x)
 	if d.Code != api.OK {

@@ -6,6 +6,7 @@ import (
 
 	"patina/api"
 	"patina/parse"
+	"patina/sourcetest"
 )
 
 // 16.1: sources in which all fits, or some do not, in the order of the source and with their nodes in others.
@@ -20,7 +21,7 @@ func TestMadeSources(t *testing.T) {
 			t.Fatal(d, source[d.From:], source)
 		}
 		if r.Intn(2) == 0 {
-			x = shuffled(r, x)
+			x = sourcetest.Shuffled(r.Intn, x)
 		}
 		want, wd := modelOf(x)
 		got, d := Of(x)

@@ -11,6 +11,7 @@ import (
 	"patina/api"
 	"patina/items"
 	"patina/parse"
+	"patina/sourcetest"
 	"patina/tree"
 	"patina/types"
 )
@@ -180,7 +181,7 @@ func TestNodes(t *testing.T) {
 	for range 12 {
 		m := &maker{r: r}
 		x, _ := parse.Parse(m.source(2))
-		typed, d := Of(shuffled(r, x))
+		typed, d := Of(sourcetest.Shuffled(r.Intn, x))
 		if d.Code != api.OK {
 			t.Fatal(d)
 		}

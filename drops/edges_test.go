@@ -63,6 +63,10 @@ func TestEnumsWhole(t *testing.T) {
 		{head, "5: Box<i64>; bb0; _0 = (); _5 = move _2.@1; _2.@1 = move _5; goto 1; bb1; drop _2; return", "bb0; _0 = (); _5 = move _2.@1; _2.@1 = move _5; goto 1; bb1; drop _2; return", ""},
 		{head, "5: Box<i64>; bb0; _0 = (); _5 = move _2.@1; goto 1; bb1; _2 = pick X 1 move _5; goto 2; bb2; drop _2; return", "bb0; _0 = (); _5 = move _2.@1; goto 1; bb1; _2 = pick X 1 move _5; goto 2; bb2; drop _2; return", ""},
 		{"it(m: &mut X)", "bb0; _0 = (); drop _1.*.@2; goto 1; bb1; drop _1.*; return", "bb0; _0 = (); drop _1.*.@2; goto 1; bb1; return", ""},
+		{"it(z: Z)", "bb0; _0 = (); drop _1.@0; goto 1; bb1; drop _1.@1; drop _1; return", "bb0; _0 = (); drop _1.@0; goto 1; bb1; return", ""},
+		{"it(y: Y)", "bb0; _0 = (); drop _1.@0; goto 1; bb1; drop _1; return", "bb0; _0 = (); drop _1.@0; goto 1; bb1; return", ""},
+		{"it(y: Y)", "bb0; _0 = (); drop _1.@0.@1; goto 1; bb1; drop _1.@0; return", "bb0; _0 = (); drop _1.@0.@1; goto 1; bb1; return", ""},
+		{"it(y: Box<Y>)", "bb0; _0 = (); drop _1.*.@0.@4.0; goto 1; bb1; drop _1; return", "bb0; _0 = (); drop _1.*.@0.@4.0; goto 2; bb1; free _1; return; bb2; drop _1.*.@0.@4.1; goto 1", "0>1 _1.*.@0.@4.1"},
 	})
 }
 

@@ -162,7 +162,7 @@ func TestManyDropsOnAnEdge(t *testing.T) {
 func TestArbitrary(t *testing.T) {
 	r := rand.New(rand.NewSource(232))
 	right := 0
-	for range 1500 {
+	for range 800 {
 		m := (&mirtest.Maker{Choose: r.Intn, Plain: r.Intn(3) == 0}).Program()
 		for range 1 + r.Intn(3) {
 			mirtest.Spoil(&m, r.Intn)
@@ -181,7 +181,7 @@ func TestArbitrary(t *testing.T) {
 			t.Fatal(f, e, g)
 		}
 	}
-	if right < 100 || right > 1400 {
+	if right < 50 || right > 750 {
 		t.Error(right)
 	}
 }

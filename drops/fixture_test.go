@@ -11,7 +11,7 @@ import (
 )
 
 const ofTypes = "struct S { a: i64, b: Box<i64> } struct D { x: Box<i64>, y: Box<i64> } struct N { } struct I { a: i64, b: bool } struct P { s: S, e: E, u: (), d: D, l: Box<L> } struct T { a: Box<i64>, b: Box<i64>, c: Box<i64> } " +
-	"enum E { A, B(i64), C(S) } enum L { End, More(Box<L>) } enum X { I(i64), K(Box<i64>), M(Box<S>), F(E), G(D) } enum Y { A(X), B(I), C } enum F { A, B(bool) }"
+	"enum E { A, B(i64), C(S) } enum L { End, More(Box<L>) } enum X { I(i64), K(Box<i64>), M(Box<S>), F(E), G(D) } enum Y { A(X), B(I), C } enum F { A, B(bool) } enum Z { A(Box<i64>), B(D) }"
 
 // bench has the functions that tests call.
 func bench() mirtest.Bench {

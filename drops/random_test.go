@@ -144,7 +144,7 @@ func breaksEnums(m api.Mir) bool {
 func TestMade(t *testing.T) {
 	r := rand.New(rand.NewSource(231))
 	again, edges, changed := 0, 0, 0
-	for k := range 400 {
+	for k := range 240 {
 		mk := &mirtest.Maker{Choose: r.Intn, Plain: k%4 == 0}
 		m := mk.Program()
 		if k%3 > 0 {
@@ -170,7 +170,7 @@ func TestMade(t *testing.T) {
 			}
 		}
 	}
-	if again < 100 || edges < 1000 || changed < 300 {
+	if again < 60 || edges < 600 || changed < 180 {
 		t.Error("seldom:", again, edges, changed)
 	}
 }

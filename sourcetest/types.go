@@ -13,6 +13,7 @@ const Types = "struct S { a: i64, b: Box<i64> } struct P { s: S, q: bool, l: Box
 // plainTypes are those of sources without Boxes.
 const plainTypes = "struct D { x: i64, y: bool } enum Y { A, B(i64), C(bool), F(D) } "
 
+// Functions are those of made sources, main last; each calls those ahead of it, and now and then itself.
 func Functions() []api.Fn {
 	p := func(name, t string) api.Field { return api.Field{Name: name, Type: t} }
 	return []api.Fn{
