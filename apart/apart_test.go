@@ -12,9 +12,11 @@ import (
 	"patina/build"
 	"patina/check"
 	"patina/drops"
+	"patina/isel"
 	"patina/loans"
 	"patina/mirtest"
 	"patina/moves"
+	"patina/opt"
 	"patina/parse"
 	"patina/sourcetest"
 )
@@ -204,6 +206,32 @@ func TestDrops(t *testing.T) {
 				kept = append(kept, l)
 			}
 			return kept
+		})
+	}
+}
+
+func TestOpt(t *testing.T) {
+	r := rand.New(rand.NewSource(253))
+	for _, m := range programs(r, 40) {
+		wantApart(t, m, func() []any {
+			made, e := opt.Make(m)
+			if e != api.OK {
+				t.Fatal(e)
+			}
+			return []any{made}
+		})
+	}
+}
+
+func TestIsel(t *testing.T) {
+	r := rand.New(rand.NewSource(263))
+	for _, m := range programs(r, 40) {
+		wantApart(t, m, func() []any {
+			l, e := isel.Make(m)
+			if e != api.OK {
+				t.Fatal(e)
+			}
+			return []any{l}
 		})
 	}
 }

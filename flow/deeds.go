@@ -1,6 +1,10 @@
 package flow
 
-import "patina/api"
+import (
+	"slices"
+
+	"patina/api"
+)
 
 // Kinds of deeds.
 const (
@@ -75,6 +79,19 @@ func DeedsOf(operands ...api.Operand) []Deed {
 			l = append(l, Deed{Copies, o.Place})
 		case api.OMove:
 			l = append(l, Deed{Moves, o.Place})
+		}
+	}
+	return l
+}
+
+// Lent tells of each local of a function whether there may be references to it, or to a part of it.
+func Lent(f api.MFn) []bool {
+	l := make([]bool, len(f.Locals))
+	for _, b := range f.Blocks {
+		for _, s := range b.Stmts {
+			if (s.R.Kind == api.RRef || s.R.Kind == api.RMut) && !slices.Contains(s.R.Place.Path, -1) {
+				l[s.R.Place.Local] = true
+			}
 		}
 	}
 	return l

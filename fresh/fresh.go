@@ -60,3 +60,18 @@ func operands(l []api.Operand) []api.Operand {
 	}
 	return c
 }
+
+// Function is the same function.
+func Function(f api.MFn) api.MFn {
+	f.Locals = slices.Clone(f.Locals)
+	f.Blocks = slices.Clone(f.Blocks)
+	for k := range f.Blocks {
+		b := &f.Blocks[k]
+		b.Stmts = slices.Clone(b.Stmts)
+		for i := range b.Stmts {
+			b.Stmts[i] = Statement(b.Stmts[i])
+		}
+		b.Term = End(b.Term)
+	}
+	return f
+}

@@ -27,6 +27,9 @@ type named struct {
 	parts []api.Field // fields, or variants
 	asked bool        // whether it owns
 	owns  bool
+	sized bool // whether its words were asked for
+	words int
+	at    []int // the words at which fields begin
 }
 
 // New are the types of items that are right; the items are not changed while it is asked.
@@ -117,6 +120,119 @@ func (t *Types) parts(name string, enum bool) ([]api.Field, bool) {
 		return nil, false
 	}
 	return n.parts, true
+}
+
+// Words are how many words a value of a type takes; of the payload that a variant has not, none.
+func (t *Types) Words(s string) int {
+	if _, points := types.Inner(s); points {
+		return 1
+	}
+	if n := t.named[s]; n != nil {
+		return t.laid(n).words
+	}
+	if s == Unit || s == "" {
+		return 0
+	}
+	return 1
+}
+
+// Offset is the word at which a part of a type begins: a field of a struct, or the payload of an enum, behind its tag.
+func (t *Types) Offset(s string, part int) int {
+	if n := t.named[s]; !n.enum {
+		return t.laid(n).at[part]
+	}
+	return 1
+}
+
+// laid is a struct or an enum of which it is known how its parts lie.
+func (t *Types) laid(n *named) *named {
+	if n.sized {
+		return n
+	}
+	n.sized = true
+	most := 0
+	for _, p := range n.parts {
+		n.at = append(n.at, n.words)
+		w := t.Words(p.Type)
+		n.words += w
+		most = max(most, w)
+	}
+	if n.enum { // payloads share their words
+		n.words = 1 + most
+	}
+	return n
+}
+
+// Mixed tells whether a truth may be another number than 0 and 1: a reference to a part of an enum may be kept over a change of its variant, so that a number is taken for a truth.
+func (t *Types) Mixed() bool {
+	for name, n := range t.named {
+		if n.enum && slices.ContainsFunc(t.forms(name), t.isMixed) {
+			return true
+		}
+	}
+	return false
+}
+
+// isMixed tells of all types that a word may have, whether a number there, or behind there, may be taken for a truth.
+func (t *Types) isMixed(l []string) bool {
+	boxes := 0
+	for _, s := range l {
+		if IsBox(s) {
+			boxes++
+		}
+	}
+	return slices.Contains(l, Truth) && slices.Contains(l, Number) || boxes > 1 && slices.ContainsFunc(l, t.leadsToTruth)
+}
+
+// leadsToTruth tells whether a Box leads to a truth.
+func (t *Types) leadsToTruth(s string) bool {
+	seen := map[string]int{}
+	work := []string{s}
+	for len(work) > 0 {
+		s, work = work[0], work[1:]
+		for IsBox(s) {
+			if s, _ = types.Inner(s); s == Truth {
+				return true
+			}
+		}
+		n := t.named[s]
+		if seen[s]++; n == nil || seen[s] > 1 {
+			continue
+		}
+		for _, p := range n.parts {
+			if p.Type == Truth {
+				return true
+			}
+			work = append(work, p.Type)
+		}
+	}
+	return false
+}
+
+// forms are the types that each word of a value of a type may have: those of its parts, and that of a tag.
+func (t *Types) forms(s string) [][]string {
+	l := make([][]string, t.Words(s))
+	n := t.named[s]
+	if n == nil {
+		for k := range l {
+			l[k] = []string{s}
+		}
+		return l
+	}
+	if n.enum {
+		l[0] = []string{Number}
+	}
+	for k, p := range n.parts {
+		for word, more := range t.forms(p.Type) {
+			at := t.Offset(s, k) + word
+			for _, form := range more {
+				if !slices.Contains(l[at], form) {
+					l[at] = append(l[at], form)
+				}
+			}
+		}
+	}
+	return l
 }
 
 // IsBox tells of a type whether it is a Box.

@@ -128,3 +128,60 @@ func TestParts(t *testing.T) {
 		}
 	}
 }
+
+// Words and offsets are those that package types tells, of a type of one part or of many, and asked again.
+func TestWordsAsTypes(t *testing.T) {
+	it := sample()
+	known := New(it)
+	for range 2 {
+		for _, s := range texts() {
+			want, e := types.Words(it, s)
+			if e == api.OK && known.Words(s) != want {
+				t.Errorf("%q: %d, not %d", s, known.Words(s), want)
+			}
+			for k := range 4 {
+				want, e := types.Offset(it, s, k)
+				if e == api.OK && known.Offset(s, k) != want {
+					t.Errorf("%q, %d: %d, not %d", s, k, known.Offset(s, k), want)
+				}
+			}
+			variants, _ := known.Variants(s)
+			for k := range variants {
+				if known.Offset(s, k) != 1 {
+					t.Errorf("%q: the payload of %d begins at %d", s, k, known.Offset(s, k))
+				}
+			}
+		}
+	}
+	if known.Words("") != 0 || known.Words("Outer") != 8 || known.Offset("Outer", 2) != 7 {
+		t.Error(known.Words(""), known.Words("Outer"), known.Offset("Outer", 2))
+	}
+}
+
+// A truth may be another number where a number can be written over it, in another variant, or behind an address that is.
+func TestMixed(t *testing.T) {
+	enum := func(name string, types ...string) api.Enum {
+		e := api.Enum{Name: name}
+		for k, s := range types {
+			e.Variants = append(e.Variants, field("abcdefgh"[k:k+1], s))
+		}
+		return e
+	}
+	structs := []api.Struct{
+		{Name: "NT", Fields: []api.Field{field("n", "i64"), field("t", "bool")}}, {Name: "TN", Fields: []api.Field{field("t", "bool"), field("n", "i64")}},
+		{Name: "UT", Fields: []api.Field{field("u", "()"), field("t", "bool")}}, {Name: "BB", Fields: []api.Field{field("a", "Box<i64>"), field("b", "Box<BB>")}}, {Name: "BT", Fields: []api.Field{field("a", "Box<BT>"), field("b", "Box<NT>")}},
+	}
+	for _, c := range []struct {
+		enums []api.Enum
+		want  bool
+	}{
+		{nil, false}, {[]api.Enum{enum("E", "i64", "bool")}, true}, {[]api.Enum{enum("E", "bool", "", "bool")}, false}, {[]api.Enum{enum("E", "NT", "NT", "i64")}, false}, {[]api.Enum{enum("E", "NT", "TN")}, true}, {[]api.Enum{enum("E", "NT", "UT")}, true}, {[]api.Enum{enum("E", "UT", "bool", "()")}, false},
+		{[]api.Enum{enum("E", "F", "bool"), enum("F", "")}, true}, {[]api.Enum{enum("E", "F", "i64"), enum("F", "bool")}, false}, {[]api.Enum{enum("E", "NT", "F"), enum("F", "i64")}, true}, {[]api.Enum{enum("E", "TN", "Box<bool>")}, false},
+		{[]api.Enum{enum("E", "Box<i64>", "Box<bool>")}, true}, {[]api.Enum{enum("E", "Box<i64>", "Box<Box<i64>>", "i64")}, false}, {[]api.Enum{enum("E", "Box<i64>", "Box<Box<NT>>")}, true}, {[]api.Enum{enum("E", "Box<bool>", "Box<bool>")}, false}, {[]api.Enum{enum("E", "Box<i64>", "BB")}, false}, {[]api.Enum{enum("E", "BT", "BB")}, true}, {[]api.Enum{enum("E", "Box<E>", "Box<F>"), enum("F", "", "Box<E>")}, false}, {[]api.Enum{enum("E", "Box<E>", "Box<F>"), enum("F", "UT", "Box<E>")}, true},
+	} {
+		it := api.Items{Structs: structs, Enums: c.enums, Fns: []api.Fn{{Name: "main", Ret: "()"}}}
+		if e := items.Check(it); e != api.OK || New(it).Mixed() != c.want {
+			t.Error(e, c)
+		}
+	}
+}

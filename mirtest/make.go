@@ -13,10 +13,12 @@ type Maker struct {
 	Choose func(n int) int // a number from 0 on, below n
 	Plain  bool            // no references, no places of payloads; no MLive, MDead, MFree, and no MDrop behind a Box
 	Copied bool            // no types of locals but those that are copied; nothing but MSet
+	Onward bool            // ends lead to blocks further on, but for few, so that runs end; there are more blocks
 
 	types  *lookup.Types
 	items  api.Items
 	f      *api.MFn // at hand
+	at     int      // the block of it at hand
 	places []spot   // of it
 }
 
@@ -63,7 +65,11 @@ func (m *Maker) Program() api.Mir {
 }
 
 func (m *Maker) function(of api.Fn) api.MFn {
-	f := api.MFn{Name: of.Name, Params: len(of.Params), Locals: []api.Local{{Type: of.Ret}}, Blocks: make([]api.MBlock, 1+m.Choose(6))}
+	most := 6
+	if m.Onward {
+		most = 16
+	}
+	f := api.MFn{Name: of.Name, Params: len(of.Params), Locals: []api.Local{{Type: of.Ret}}, Blocks: make([]api.MBlock, 1+m.Choose(most))}
 	for _, p := range of.Params {
 		f.Locals = append(f.Locals, api.Local{Type: p.Type})
 	}
@@ -76,6 +82,7 @@ func (m *Maker) function(of api.Fn) api.MFn {
 	m.places = m.spots()
 	first := m.beginning()
 	for k := range f.Blocks {
+		m.at = k
 		for range m.Choose(6) {
 			if s, made := m.statement(); made {
 				first = append(first, s)

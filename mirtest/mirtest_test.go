@@ -11,7 +11,7 @@ import (
 )
 
 func makers(r *rand.Rand) []*Maker {
-	return []*Maker{{Choose: r.Intn}, {Choose: r.Intn, Plain: true}, {Choose: r.Intn, Copied: true}}
+	return []*Maker{{Choose: r.Intn}, {Choose: r.Intn, Plain: true}, {Choose: r.Intn, Copied: true}, {Choose: r.Intn, Copied: true, Onward: true}}
 }
 
 // What is made is right, and its text is read as it was written.

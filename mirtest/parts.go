@@ -166,9 +166,12 @@ func (m *Maker) end() api.MTerm {
 	to := func(count int) []int {
 		var l []int
 		for range count {
-			l = append(l, m.Choose(len(m.f.Blocks)))
+			l = append(l, m.block())
 		}
 		return l
+	}
+	if m.Onward && m.at == len(m.f.Blocks)-1 {
+		return api.MTerm{Kind: api.TReturn}
 	}
 	switch m.Choose(8) {
 	case 0, 1:
@@ -190,6 +193,14 @@ func (m *Maker) end() api.MTerm {
 		return api.MTerm{Kind: api.TReturn}
 	}
 	return api.MTerm{Kind: api.TGoto, To: to(1)}
+}
+
+// block is a block to which an end leads.
+func (m *Maker) block() int {
+	if left := len(m.f.Blocks) - 1 - m.at; m.Onward && left > 0 && !m.one(12) {
+		return m.at + 1 + m.Choose(left)
+	}
+	return m.Choose(len(m.f.Blocks))
 }
 
 func (m *Maker) callOf() (api.MTerm, bool) {

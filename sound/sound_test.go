@@ -1,4 +1,4 @@
-// Package sound holds what moves, drops and loans promise together to sources: what they take is never undefined, does what it did, and loses nothing.
+// Package sound holds what moves, drops and loans promise together to sources: what they take is never undefined, does what it did, and loses nothing; and what opt and isel make of it does that, too.
 package sound
 
 import (
@@ -12,11 +12,14 @@ import (
 	"patina/check"
 	"patina/drops"
 	"patina/eval"
+	"patina/isel"
+	"patina/lir"
 	"patina/loans"
 	"patina/mir"
 	"patina/mirtest"
 	"patina/mirun"
 	"patina/moves"
+	"patina/opt"
 	"patina/parse"
 	"patina/sourcetest"
 )
@@ -100,9 +103,36 @@ func (p program) wantSound(t *testing.T, in []byte, count ends) {
 		}
 	}
 	count[[2]int{made.End, made.Code}]++
+	p.wantKept(t, in, made)
 	if made.End == api.EndDone && made.Code == api.ExitDone {
 		if o := mirtest.Run(p.made, "main", nil, in, made.Steps); o.Left > 0 {
 			t.Fatalf("%d blocks are left\n%s", o.Left, p.source)
+		}
+	}
+}
+
+// wantKept holds what opt and isel make of a taken program to P7, with an input, and with what the program does.
+func (p program) wantKept(t *testing.T, in []byte, made api.Outcome) {
+	t.Helper()
+	short, e := opt.Make(p.made)
+	if e != api.OK {
+		t.Fatal(e, p.source)
+	}
+	if d := moves.Check(short); d.Code != api.OK {
+		t.Fatalf("%v\n%s", d, p.source)
+	}
+	o, e := mirun.Run(short, in, many)
+	if e != api.OK || o.End != made.End || o.Code != made.Code || made.End == api.EndDone && (o.Steps > made.Steps || !bytes.Equal(o.Out, made.Out)) {
+		t.Fatalf("%v: %v, not %v\n%s", in, o, made, p.source)
+	}
+	if made.End != api.EndDone {
+		return
+	}
+	for _, m := range []api.Mir{p.made, short} {
+		l, e := isel.Make(m)
+		o, g := lir.Run(l, in, isel.Factor*(made.Steps+1))
+		if e != api.OK || g != api.OK || o.End != api.EndDone || o.Code != made.Code || !bytes.Equal(o.Out, made.Out) {
+			t.Fatalf("%v: %v %v %v, not %v\n%s", in, e, g, o, made, p.source)
 		}
 	}
 }
@@ -112,7 +142,7 @@ func inputs(r *rand.Rand) [][]byte {
 	return [][]byte{nil, []byte("\x00\x01\x02A")[:1+r.Intn(4)], {byte(r.Intn(4)), byte(r.Intn(256))}}
 }
 
-// P4, 23.2 to 23.4, 24.5: sources that grow statement by statement, as long as they are taken.
+// P4, P7, 23.2 to 23.4, 24.5: sources that grow statement by statement, as long as they are taken.
 func TestGrown(t *testing.T) {
 	r := rand.New(rand.NewSource(12))
 	count := ends{}
@@ -150,7 +180,7 @@ func TestGrown(t *testing.T) {
 	}
 }
 
-// 23.2 to 24.5: sources that are made at once, those whose moves are right, and of these those whose loans are.
+// P7, 23.2 to 24.5: sources that are made at once, those whose moves are right, and of these those whose loans are.
 func TestMade(t *testing.T) {
 	r := rand.New(rand.NewSource(13))
 	count := ends{}

@@ -17,7 +17,7 @@ const functions = "fn sum(l: &L) -> i64 { match l { L::End => 0, L::More(n) => n
 	"fn pair() -> D { D { x: Box::new(1), y: Box::new(2) } } fn take(b: Box<i64>) -> i64 { *b } fn choose(c: bool, a: Box<i64>, b: Box<i64>) -> Box<i64> { if c { return a; } b } " +
 	"fn at(c: bool, x: &i64, y: &i64) -> &i64 { if c { x } else { y } } "
 
-// 23.3, 23.4, 24.5, P4: sources of each kind that are taken; in main of those that are marked something is dropped on edges.
+// 23.3, 23.4, 24.5, P4, P7: sources of each kind that are taken; in main of those that are marked something is dropped on edges.
 func TestTaken(t *testing.T) {
 	count := ends{}
 	for _, c := range []struct {

@@ -8,7 +8,7 @@ import (
 
 // Calculate is what a sign makes of two numbers or truths, unless it ends the program.
 func (r *Run) Calculate(sign string, left, right Word) Word {
-	v, code := calculated(sign, r.NumberOf(left), r.NumberOf(right))
+	v, code := Calculated(sign, r.NumberOf(left), r.NumberOf(right))
 	if code != api.ExitDone {
 		r.Exit(code)
 	}
@@ -21,8 +21,8 @@ func (r *Run) Negate(w Word) Word { return r.Calculate("-", Number(0), w) }
 // Holds tells whether a word is true.
 func (r *Run) Holds(w Word) bool { return r.NumberOf(w) == 1 }
 
-// calculated is what a sign makes of two numbers, or with which code it ends a program.
-func calculated(sign string, a, b int64) (int64, int) {
+// Calculated is what a sign makes of two numbers, or with which code it ends a program.
+func Calculated(sign string, a, b int64) (int64, int) {
 	switch sign {
 	case "+":
 		return a + b, overIf((a+b > a) != (b > 0))
