@@ -266,7 +266,7 @@ func (x *folder) end(b int, s state) {
 		*t = api.MTerm{Kind: api.TGoto, To: []int{to}, At: t.At, Till: t.Till}
 		x.changed = true
 	}
-	if t.Kind == api.TCall { // tests behind calls have most often no state to be known by
+	if !x.leads || t.Kind == api.TCall { // tests behind calls have most often no state to be known by
 		return
 	}
 	ends := map[int]int{}

@@ -2,6 +2,7 @@ package opt
 
 import (
 	"math/rand"
+	"strconv"
 	"testing"
 
 	"patina/api"
@@ -95,5 +96,52 @@ func TestSources(t *testing.T) {
 	wantEnds(t, count, 5)
 	if taken < 15 || count[[2]int{api.EndDone, api.ExitDone}] < 100 {
 		t.Error("seldom:", count, taken)
+	}
+}
+
+// tangle is a row of blocks with few statements and many ways, behind what it reads.
+func tangle(choose func(n int) int) string {
+	row := "1: i64; 2: bool; 3: bool; 4: (); 5: i64; 6: i64; bb0; _1 = call read -> 1; bb1; _5 = call read -> 2; bb2; _6 = call read -> 3; bb3; _2 = copy _1 == 1; _3 = copy _5 == copy _6; goto 4"
+	n := 6 + choose(9)
+	one := func(of ...string) string { return of[choose(len(of))] }
+	to := func() string { return " " + strconv.Itoa(max(choose(n), choose(n))) }
+	for b := 4; b < n; b++ {
+		row += "; bb" + strconv.Itoa(b) + "; "
+		if choose(3) == 0 {
+			row += one("_2 = copy _1 == 1", "_3 = not copy _2", "_3 = copy _2", "_1 = 2", "_6 = copy _1", "_2 = true", "_5 = 0", "_6 = copy _6 + copy _5", "_1 = copy _6", "_3 = copy _1 < copy _5") + "; "
+		}
+		switch choose(6) {
+		case 0:
+			row += "goto" + to()
+		case 1:
+			row += "if copy " + one("_2", "_3") + to() + to()
+		case 2, 3:
+			row += "switch copy " + one("_1", "_1", "_1", "_5")
+			for n := range 4 {
+				if choose(3) == 0 {
+					row += " " + strconv.Itoa(n) + to()
+				}
+			}
+			row += to()
+		case 4:
+			row += one("_4 = call print copy _1 ->", "_4 = call print copy _6 ->", "_1 = call read ->", "_5 = call read ->") + to()
+		case 5:
+			row += one("return", "panic 103")
+		}
+	}
+	return row
+}
+
+// 25.1, 25.2: tests and rings of all shapes.
+func TestTangles(t *testing.T) {
+	r := rand.New(rand.NewSource(254))
+	count := ends{}
+	for range 500 {
+		wantShorter(t, programOf(t, "main()", tangle(r.Intn)), count, []byte("\x00\x01\x02\x03\x02\x01\x00\x01\x01")[:r.Intn(10)])
+	}
+	for _, end := range [][2]int{{api.EndDone, api.ExitDone}, {api.EndDone, api.ExitPanic}, {api.EndFuel, 0}} {
+		if count[end] < 50 {
+			t.Error("seldom:", count)
+		}
 	}
 }

@@ -10,22 +10,32 @@ import (
 
 // tidy leaves out ways that say nothing, and blocks to which none leads, and makes one block of two that always stand behind one another.
 func (f *function) tidy() bool {
-	changed := false
+	changed := f.hasten()
 	ways := f.ways()
 	for b := range f.Blocks {
 		t := &f.Blocks[b].Term
-		for k, to := range t.To {
-			t.To[k] = f.end(to)
-			changed = changed || t.To[k] != to
-		}
+		changed = f.simplify(t) || changed
 		for f.merge(t, ways) {
+			f.simplify(t) // so that numbers never lead where all others do
 			changed = true
 		}
-		changed = f.simplify(t) || changed
 		changed = f.take(t) || changed
 	}
 	changed = f.join() || changed
 	return f.prune() || changed
+}
+
+// hasten leads each way to where it ends.
+func (f *function) hasten() bool {
+	changed := false
+	for b := range f.Blocks {
+		l := f.Blocks[b].Term.To
+		for k, to := range l {
+			l[k] = f.end(to)
+			changed = changed || l[k] != to
+		}
+	}
+	return changed
 }
 
 // end is where a way to a block ends that leads through blocks which only go on to another one; a way that comes to no end ends where it is.
@@ -114,6 +124,7 @@ func (f *function) merge(t *api.MTerm, ways []int) bool {
 	}
 	made.To = append(made.To, next.To[k])
 	*t = made
+	f.leave(to)
 	return true
 }
 
@@ -129,6 +140,9 @@ func (f *function) ways() []int {
 	return l
 }
 
+// leave lets a block to which nothing leads any longer lead nowhere, so that each block stands in for one other at most.
+func (f *function) leave(b int) { f.Blocks[b] = api.MBlock{Term: api.MTerm{Kind: api.TReturn}} }
+
 // join makes one block of two, where the first one only goes on to the second one, and nothing else does.
 func (f *function) join() bool {
 	changed := false
@@ -142,7 +156,7 @@ func (f *function) join() bool {
 			}
 			k.Stmts = append(k.Stmts, f.Blocks[to].Stmts...)
 			k.Term = f.Blocks[to].Term
-			f.Blocks[to] = api.MBlock{Term: api.MTerm{Kind: api.TReturn}} // nothing leads there
+			f.leave(to)
 			changed = true
 		}
 	}
