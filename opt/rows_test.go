@@ -154,6 +154,9 @@ func TestBlocks(t *testing.T) {
 		{"it(e: &E) -> i64", "2: i64; 3: i64; 4: i64; bb0; _2 = tag _1.*; switch copy _2 0 1 2; bb1; _0 = 5; return; bb2; _3 = tag _1.*; switch copy _3 1 3 4; bb3; _0 = copy _1.*.@1; return; bb4; _4 = tag _1.*; switch copy _4 2 5 6; bb5; _0 = 8; return; bb6; panic 103", "bb0; _2 = tag _1.*; switch copy _2 0 1 1 2 2 3 4; bb1; _0 = 5; return; bb2; _0 = copy _1.*.@1; return; bb3; _0 = 8; return; bb4; panic 103"},
 		{"main()", "1: i64; bb0; _1 = call read -> 4; bb1; switch copy _1 2 5 3; bb2; switch copy _1 1 5 1; bb3; goto 2; bb4; switch copy _1 3 5 3; bb5; _0 = (); return", "bb0; _1 = call read -> 2; bb1; switch copy _1 1 3 2 3 1; bb2; switch copy _1 3 3 1; bb3; _0 = (); return"},
 		{"it(n: i64) -> i64", "bb0; switch copy _1 3 1 4 2 1; bb1; switch copy _1 3 3 4 3 5 2 3; bb2; _0 = 1; return; bb3; _0 = 2; return", "bb0; switch copy _1 4 1 5 1 2; bb1; _0 = 1; return; bb2; _0 = 2; return"},
+		{"it(n: i64) -> i64", "bb0; switch copy _1 3 1 2; bb1; _0 = 1; return; bb2; switch copy _1 7 3 3; bb3; switch copy _1 8 4 5; bb4; _0 = 2; return; bb5; _0 = 3; return", "bb0; switch copy _1 3 1 8 2 3; bb1; _0 = 1; return; bb2; _0 = 2; return; bb3; _0 = 3; return"},
+		{"it(n: i64)", "bb0; _0 = (); return; bb1; switch copy _1 1 3 2; bb2; switch copy _1 2 3 1; bb3; return", "bb0; _0 = (); return"},
+		{"it(n: i64)", "bb0; _0 = (); return; bb1; goto 2; bb2; goto 1; bb3; _1 = 1; goto 4; bb4; _1 = 2; goto 3", "bb0; _0 = (); return"},
 		{"it(c: bool)", "2: S; 3: Box<i64>; bb0; _3 = box 1; _2 = make S 1 move _3; _2.0 = 5; _2.0 = 5 / 0; _0 = (); return", "bb0; panic 102"},
 	})
 }
