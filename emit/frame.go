@@ -1,6 +1,8 @@
 package emit
 
 import (
+	"slices"
+
 	"patina/api"
 	"patina/live"
 )
@@ -41,9 +43,9 @@ func (w *writer) close() {
 	w.put(instr(api.Instr{Op: api.OpJalr, Rs1: way}))
 }
 
-// clearWords makes all words of the frame 0.
+// clearWords makes all words of the frame 0, if their address is ever told: else nothing comes to them.
 func (w *writer) clearWords() {
-	if w.f.Frame == 0 {
+	if !slices.ContainsFunc(w.f.Blocks, hasFrame) {
 		return
 	}
 	again := w.name() + ".clear"
@@ -53,6 +55,10 @@ func (w *writer) clearWords() {
 	w.store(zero, scratch, 0)
 	w.add(scratch, scratch, wordSize)
 	w.put(branch(api.OpBne, scratch, scratch2, again))
+}
+
+func hasFrame(b api.LBlock) bool {
+	return slices.ContainsFunc(b.Ins, func(i api.LIns) bool { return i.Op == api.LFrame })
 }
 
 // takeParams brings the arguments to where the parameters stand: into slots first, as that changes none of the machine's registers.
