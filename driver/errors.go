@@ -16,8 +16,6 @@ type found struct {
 
 func (f *found) Error() string { return f.Code.Error() }
 
-func (f *found) Unwrap() error { return f.Code }
-
 // inPass is what a pass told, on its way up.
 type inPass struct {
 	pass string
@@ -59,7 +57,7 @@ func limited(part string, e api.Errno) error {
 	return &atLimit{inPass{part, e}}
 }
 
-// diagOf is what an error tells of a source: where no place came up with it, that is the whole source.
+// diagOf is what an error tells of a source: of the whole source, where no place came up with it.
 func diagOf(err error, source string) api.Diag {
 	var f *found
 	if errors.As(err, &f) {
