@@ -2,6 +2,7 @@
 package apart
 
 import (
+	"bytes"
 	"math/rand"
 	"reflect"
 	"runtime"
@@ -11,6 +12,8 @@ import (
 	"patina/api"
 	"patina/build"
 	"patina/check"
+	"patina/desk"
+	"patina/driver"
 	"patina/drops"
 	"patina/isel"
 	"patina/loans"
@@ -37,7 +40,9 @@ func rooms(v reflect.Value) []room {
 			l = append(l, room{v.Pointer(), v.Pointer() + uintptr(v.Cap())*v.Type().Elem().Size()})
 		}
 		for k := range v.Len() {
-			l = append(l, rooms(v.Index(k))...)
+			if v.Type().Elem().Kind() != reflect.Uint8 { // of an image there are many
+				l = append(l, rooms(v.Index(k))...)
+			}
 		}
 	}
 	return l
@@ -53,6 +58,9 @@ func copyOf(v reflect.Value) reflect.Value {
 		}
 		return c
 	case reflect.Slice:
+		if b, is := v.Interface().([]byte); is {
+			return reflect.ValueOf(bytes.Clone(b))
+		}
 		c := reflect.Zero(v.Type())
 		for k := range v.Len() {
 			c = reflect.Append(c, copyOf(v.Index(k)))
@@ -219,6 +227,32 @@ func TestOpt(t *testing.T) {
 				t.Fatal(e)
 			}
 			return []any{made}
+		})
+	}
+}
+
+// What is compiled and run: an image and an input with room to spare.
+func TestDriver(t *testing.T) {
+	r := rand.New(rand.NewSource(273))
+	source := "fn main() { while true { print(read()); } }"
+	for range 12 {
+		image, d := driver.Compile(source)
+		x := struct{ Image, In []byte }{slices.Grow(image, 9), slices.Grow([]byte("\x00\x01\x02\x03"), 9)}
+		wantApart(t, x, func() []any {
+			m, _ := driver.Front(source)
+			b, _ := driver.Compile(source)
+			o, e := driver.Run(x.Image, x.In, 500)
+			s, _ := driver.Source(source, x.In, 50)
+			_, f := driver.Cost(x.Image)
+			_, _, g := desk.Agrees(source, x.In, 50)
+			if d.Code+e+f+g.Code != api.OK {
+				t.Fatal(d, e, f, g)
+			}
+			return []any{m, b, o, s}
+		})
+		source = (&sourcetest.Maker{Choose: r.Intn}).Grown(12, 2, func(source string) bool {
+			_, d := driver.Front(source)
+			return d.Code == api.OK
 		})
 	}
 }

@@ -41,6 +41,11 @@ const (
 	wrongEnd = "fn main() { print(1); print(1 / read()); }"
 )
 
+// tooLong is a source whose drops need too many blocks.
+func tooLong() string {
+	return "fn main() { let t = read() == 0; let mut b = Box::new(1);\n" + strings.Repeat("if t { b; } b = Box::new(1);\n", 300) + "}"
+}
+
 // 28.1: what each command tells, of sources that are taken, and of those with which something is wrong.
 func TestCommands(t *testing.T) {
 	for _, c := range []struct {
@@ -57,6 +62,7 @@ func TestCommands(t *testing.T) {
 		{"moves main", [][2]string{{noCover, "wrong 170 38 63 2 13"}, {noMoves, "wrong 220 63 65 3 20"}, {"fn main() { }", "moves 0"}, {"fn main() { let a = 1; }", "moves 1"}, {noLoans, "moves 2"}, {"struct S { a: Box<i64>, b: i64 }\nfn f(s: S) -> Box<i64> { s.a }\nfn main() { }", "moves 0"}}},
 		{"moves f", [][2]string{{noMain, "wrong 144 0 0 1 1"}, {"fn main() { }", "none"}, {noMoves, "wrong 220 63 65 3 20"}, {noLoans, "moves 1"}, {"struct S { a: Box<i64>, b: i64 }\nfn f(s: &mut S, c: bool) { if c { let t = 1; } }\nfn main() { }", "moves 1"}}},
 		{"loans main", [][2]string{{noCover, "wrong 170 38 63 2 13"}, {noMoves, "wrong 220 63 65 3 20"}, {"fn main() { }", "loans 0 1 0 0 0 0"}, {"fn main() { let mut a = 1; let r = &mut a; *r = 2; }", "loans 1 9 0 2 2 3"}}},
+		{"loans zz", [][2]string{{taken, "none"}, {tooLong(), told("wrong 2 0", len(tooLong())+1, 1, 1)}}}, {"moves zz", [][2]string{{tooLong(), "none"}}}, {"check", [][2]string{{tooLong(), told("wrong 2 0", len(tooLong())+1, 1, 1)}}},
 		{"loans f", [][2]string{{noMain, "wrong 144 0 0 1 1"}, {"fn main() { }", "none"}, {noMoves, "wrong 220 63 65 3 20"}, {noLoans, "loans 0 3 0 0 0 0"}, {"fn f(r: &i64) -> &i64 { &*r }\nfn main() { }", "loans 1 2 1 0 3 0"}}},
 		{"eval 30", [][2]string{{noMain, "wrong 144 0 0 1 1"}, {noCover, "wrong 170 38 63 2 13"}, {"fn main() { }", "eval done 0 1"}, {"fn main() { print(6 * 7); }", "eval done 0 6 42"}, {noMoves, "eval undefined 10"}, {endless, "eval fuel 30 1 2 2 2 2"}, {"fn main() { panic(); }", "eval done 103 3"}, {wrongEnd, "eval done 0 9 1 -1"}}},
 		{"eval 0", [][2]string{{"fn main() { }", "eval fuel 0"}, {"fn main() { print(-3 - 4); }", "eval fuel 0"}}},

@@ -53,6 +53,7 @@ func TestSourceLines(t *testing.T) {
 		{"", ""}, {"\n", ""}, {"\n\n# a\n#", ""}, {"tokens", "tokens 1\n"}, {"tokens\n", "tokens 1\n"}, {"source\ntokens", "ok\ntokens 1\n"}, {"source", "ok\n"}, {"source\n|", "ok\n"}, {"source\n|\n|\ntokens\nplace 2\nplace 3", "ok\ntokens 1\nplace 3 1\nerror 1\n"}, {"source\n|a\nplace 2\nplace 3", "ok\nplace 2 1\nerror 1\n"}, {"source\n|a", "ok\n"},
 		{"source\n||\n|# a\ntokens", "ok\nwrong 111 0 1 1 1\n"}, {"source\n|a b\n| |c\ntokens", "ok\nwrong 111 5 6 2 2\n"}, {"source\n|a\nsource\ntokens", "ok\nok\ntokens 1\n"}, {"source\n|a\nsource\n|b c\ntokens", "ok\nok\ntokens 3\n"}, {"source\n|a\n\n#\ntokens\n", "ok\ntokens 2\n"}, {" source \n|a b c\ntokens", "ok\ntokens 4\n"},
 		{"source\n" + main + "eval 99\ninput 65 66\neval 99\ninput\neval 99", "ok\neval done 0 4 -1\nok\neval done 0 4 65\nok\neval done 0 4 -1\n"}, {"source\n" + main + "input 255\neval 9\ninput 1 256 2\neval 9\ninput 1000000\neval 9\ninput 0\neval 9", "ok\nok\neval done 0 4 255\nerror 1\neval done 0 4 255\nerror 1\neval done 0 4 255\nok\neval done 0 4 0\n"}, {"input 7\nsource\n" + main + "call main 9\neval 9\nimage 9", "ok\nok\ncall done 0 0 -1\neval done 0 4 7\nimage agrees\n"},
+		{"source\n|fn main() { while read() != 7 { } }\nimage 99\ninput 8 7\nimage 99\neval 99\ninput\nimage 99", "ok\nimage fuel\nok\nimage agrees\neval done 0 9\nok\nimage fuel\n"},
 	} {
 		wantRun(t, c[0], c[1])
 	}

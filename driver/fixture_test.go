@@ -6,8 +6,12 @@ import (
 	"testing"
 
 	"patina/api"
+	"patina/build"
+	"patina/check"
+	"patina/drops"
 	"patina/elf"
 	"patina/mir"
+	"patina/parse"
 )
 
 // compiledSource is a source that is taken, and its image.
@@ -26,8 +30,8 @@ func taken(t *testing.T, source string) compiledSource {
 	if c.image, d = Compile(source); d != (api.Diag{}) {
 		t.Fatalf("%v\n%s", d, source)
 	}
-	if m, d := Front(source); d != (api.Diag{}) || mir.Check(m) != api.OK {
-		t.Fatalf("%v %v\n%s", d, mir.Check(m), source)
+	if m, d := Front(source); d != (api.Diag{}) || !mir.Same(m, definite(source)) {
+		t.Fatalf("%v\n%s", d, source)
 	}
 	if _, e, at := elf.Read(c.image); e != api.OK {
 		t.Fatalf("%v %d\n%s", e, at, source)
@@ -37,6 +41,15 @@ func taken(t *testing.T, source string) compiledSource {
 		t.Fatalf("%v %d\n%s", e, c.cost, source)
 	}
 	return c
+}
+
+// definite is what drops makes of a source with which nothing is wrong.
+func definite(source string) api.Mir {
+	tree, _ := parse.Parse(source)
+	u, _ := check.Of(tree)
+	m, _ := build.Of(u)
+	made, _ := drops.Make(m)
+	return made
 }
 
 // ends are how sources and their images ended: what ends each, and with which code.

@@ -129,6 +129,15 @@ func TestExamples(t *testing.T) {
 	}
 }
 
+// 27.1: loans are looked for in what drops made: what is dropped on an edge is lent no more, though its scope goes on.
+func TestLoansOfDefinite(t *testing.T) {
+	const lent = "fn main() { let z = 1; let b = Box::new(2); let mut r = &*b; if read() == 0 { r = &z; let c = b; } print(%); }"
+	if _, d := Compile(strings.Replace(lent, "%", "*r", 1)); d != (api.Diag{Code: api.ErrGone}) {
+		t.Error(d)
+	}
+	taken(t, strings.Replace(lent, "%", "z", 1)).wantEnd(nil, 0, "1", ends{})
+}
+
 // 27.2: what is wrong by parse, check and cover alone keeps a source from being run.
 func TestSourceFirst(t *testing.T) {
 	const main = "fn p0() { } fn main() { print(3); } "

@@ -107,9 +107,9 @@ func TestStack(t *testing.T) {
 		}
 	}
 	for _, c := range []struct{ body, out string }{
-		{"print(if even(800) { 1 } else { 0 }); print(if odd(800) { 1 } else { 0 });", "1 0"}, {"let l = list(800); print(sum(&l)); print(sum(&l));", "319600 319600"}, {"let l = list(3000); let m = list(100); print(1);", "1"},
+		{"print(if even(800) { 1 } else { 0 }); print(if odd(800) { 1 } else { 0 });", "1 0"}, {"let l = list(800); print(sum(&l)); print(sum(&l));", "319600 319600"}, {"let l = list(3000); let m = list(100); print(1);", "1"}, {"let mut t = Box::new(T { l: V::Nil, r: V::Nil }); let mut i = 0; while i < 1500 { t = Box::new(T { l: V::Cons(t), r: V::Nil }); i = i + 1; } print(i);", "1500"},
 	} {
-		taken(t, inMain(c.body)).wantEnd(nil, 0, c.out, count)
+		taken(t, "struct T { l: V, r: V } enum V { Nil, Cons(Box<T>) } "+inMain(c.body)).wantEnd(nil, 0, c.out, count)
 	}
 }
 
