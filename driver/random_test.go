@@ -1,6 +1,7 @@
 package driver
 
 import (
+	"bytes"
 	"math/rand"
 	"strings"
 	"testing"
@@ -18,6 +19,9 @@ func inputs(r *rand.Rand) [][]byte {
 func wantKeptAll(t *testing.T, r *rand.Rand, source string, count ends) {
 	t.Helper()
 	c := taken(t, source)
+	if again, _ := Compile(source); !bytes.Equal(again, c.image) { // R6
+		t.Fatal("another image", source)
+	}
 	for _, in := range inputs(r) {
 		if o, _ := c.wantKept(in, 20000, count); o.End == api.EndDone && o.Steps > 0 {
 			c.wantKept(in, r.Intn(o.Steps), count)
